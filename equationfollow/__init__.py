@@ -1,0 +1,1 @@
+"""What follows from equations, within a degree, and how."""

@@ -1,0 +1,45 @@
+"""The calls: what follows from equations, and how.
+
+The letters are told by their numbers, the polynomials by their texts' bytes, first p's, then each
+equation's. What is answered is one list: a number, then each text as how many bytes it has and
+these. A refusal is a number below 0, alone.
+"""
+
+from equationfollow.following import how_it_follows
+from equationfollow.products import degree_of
+from equationfollow.reading import read_polynomial
+from equationfollow.refusals import first_refusal
+from equationfollow.writing import written
+
+ABOVE_D = -6
+
+
+# Of all letters from a to z, those that are told.
+def in_letters(polynomial, letters):
+    terms = []
+    for term in polynomial:
+        product = [term[0][0]] + [term[0][1 + letter] for letter in letters]
+        terms.append((tuple(product), term[1], term[2]))
+    return terms
+
+
+def answer_of(number, polynomials, letters):
+    answer = [number]
+    for polynomial in polynomials:
+        text = written(polynomial, letters)
+        answer = answer + [len(text)] + text
+    return answer
+
+
+def follows(d, letters, texts):
+    polynomials = [read_polynomial(text) for text in texts]
+    refusal = first_refusal(d, letters, polynomials)
+    if refusal < 0:
+        return [refusal]
+    if degree_of(polynomials[0]) > d:
+        return [ABOVE_D]
+    told = [in_letters(polynomial, letters) for polynomial in polynomials]
+    how = how_it_follows(d, len(letters), told[0], told[1:])
+    if how is None:
+        return [0]
+    return answer_of(1, how, letters)

@@ -1,0 +1,178 @@
+"""What the tests share: calls by plain texts, and the document's words told again in another way.
+
+The second way is slow and plain: fractions, dicts, and multiples taken one by one in order.
+"""
+
+import itertools
+import re
+from fractions import Fraction
+
+from equationfollow import equations
+
+
+def letter_numbers(names):
+    return [ord(name) - ord("a") for name in names]
+
+
+def to_bytes(text):
+    return list(text.encode("latin-1"))
+
+
+def texts_of(answer):
+    """The texts behind an answer's number; fails if the counts don't fit."""
+    texts = []
+    place = 1
+    while place < len(answer):
+        count = answer[place]
+        piece = answer[place + 1:place + 1 + count]
+        assert len(piece) == count, answer
+        texts.append(bytes(piece).decode("ascii"))
+        place += 1 + count
+    return texts
+
+
+def follows(d, names, p, *told):
+    """The number alone, or the list of texts if that's 1."""
+    answer = equations.follows(d, letter_numbers(names), [to_bytes(text) for text in (p,) + told])
+    if answer[0] == 1:
+        return texts_of(answer)
+    assert len(answer) == 1, answer
+    return answer[0]
+
+
+def order(product):
+    return (sum(product), product)
+
+
+def products_within(d, count):
+    found = [product for product in itertools.product(range(d + 1), repeat=count) if sum(product) <= d]
+    return sorted(found, key=order)
+
+
+def write(polynomial, names):
+    """The text of a dict from products (how often each of the names is there) to fractions."""
+    text = ""
+    for product in sorted(polynomial, key=order, reverse=True):
+        number = polynomial[product]
+        powers = [name + ("^%d" % often if often > 1 else "") for name, often in zip(names, product) if often]
+        factors = powers if powers and abs(number) == 1 else [str(abs(number))] + powers
+        minus = number < 0
+        text += (" - " if minus else " + ") if text else ("-" if minus else "")
+        text += "*".join(factors)
+    return text or "0"
+
+
+TERM = re.compile(r"([+-]?)([0-9/a-z^*]+)", re.ASCII)
+FACTOR = re.compile(r"([0-9]+(?:/[0-9]+)?)|([a-z])(?:\^([0-9]+))?", re.ASCII)
+ALL_NAMES = "abcdefghijklmnopqrstuvwxyz"
+
+
+def read_loosely(text):
+    """A polynomial of a to z from anything that looks like a sum, or None."""
+    polynomial = {}
+    packed = text.replace(" ", "")
+    if "".join(match.group(0) for match in TERM.finditer(packed)) != packed or not packed:
+        return None
+    for match in TERM.finditer(packed):
+        number = Fraction(-1 if match.group(1) == "-" else 1)
+        counts = [0] * 26
+        for factor in match.group(2).split("*"):
+            parts = FACTOR.fullmatch(factor)
+            if parts is None:
+                return None
+            if parts.group(1):
+                top, slash, bottom = parts.group(1).partition("/")
+                if slash and int(bottom) == 0:
+                    return None
+                number *= Fraction(int(top), int(bottom or 1))
+            else:
+                counts[ALL_NAMES.index(parts.group(2))] += int(parts.group(3) or 1)
+        product = tuple(counts)
+        polynomial[product] = polynomial.get(product, 0) + number
+    return {product: number for product, number in polynomial.items() if number}
+
+
+def is_polynomial_text(text):
+    """Each polynomial has one text: what is read, however loosely, has to be written just so."""
+    polynomial = read_loosely(text)
+    return polynomial is not None and write(polynomial, ALL_NAMES) == text
+
+
+def read(text, names):
+    polynomial = read_loosely(text)
+    places = letter_numbers(names)
+    return {tuple(product[place] for place in places): number for product, number in polynomial.items()}
+
+
+def plus(one, other, number=1):
+    total = dict(one)
+    for product, value in other.items():
+        total[product] = total.get(product, 0) + number * value
+        if total[product] == 0:
+            del total[product]
+    return total
+
+
+def times(one, other):
+    total = {}
+    for product, number in one.items():
+        shifted = {tuple(map(sum, zip(product, second))): value for second, value in other.items()}
+        total = plus(total, shifted, number)
+    return total
+
+
+def degree(polynomial):
+    return max([sum(product) for product in polynomial], default=0)
+
+
+def multiples(d, count, told):
+    for index, equation in enumerate(told):
+        if equation:
+            for product in products_within(d - degree(equation), count):
+                yield (index, product), times({product: Fraction(1)}, equation)
+
+
+def remainder(polynomial, kept):
+    """What's left, and how much of each needed multiple was taken."""
+    taken = {}
+    products = sorted(kept, key=order, reverse=True)
+    for highest in products:
+        if highest in polynomial:
+            vector, how = kept[highest]
+            number = polynomial[highest] / vector[highest]
+            polynomial = plus(polynomial, vector, -number)
+            taken = plus(taken, how, number)
+    return polynomial, taken
+
+
+def follows_again(d, names, p, *told):
+    """How p follows, as the document's words tell it, or 0."""
+    told = [read(text, names) for text in told]
+    kept = {}
+    for label, multiple in multiples(d, len(names), told):
+        left, taken = remainder(multiple, kept)
+        if left:
+            kept[max(left, key=order)] = (left, plus({label: Fraction(1)}, taken, -1))
+    left, taken = remainder(read(p, names), kept)
+    if left:
+        return 0
+    answers = [{} for equation in told]
+    for (index, product), number in taken.items():
+        answers[index][product] = number
+    return [write(answer, names) for answer in answers]
+
+
+def total_of(names, factors, told):
+    """The factors times the equations, added up, as a text."""
+    total = {}
+    for factor, equation in zip(factors, told, strict=True):
+        total = plus(total, times(read(factor, names), read(equation, names)))
+    return write(total, names)
+
+
+def random_polynomial(rng, names, d, most, largest, bottom):
+    """Products of degree d at most, whole numbers up to largest at the top and up to bottom below."""
+    products = products_within(d, len(names))
+    chosen = rng.sample(products, min(len(products), rng.randint(1, most)))
+    numbers = [Fraction(rng.randint(-largest, largest), rng.randint(1, bottom)) for product in chosen]
+    return {product: number for product, number in zip(chosen, numbers) if number}

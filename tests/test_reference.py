@@ -1,0 +1,62 @@
+"""Many polynomials, the same each time, against the document's words told in another way."""
+
+import random
+import unittest
+
+from tests.helper import degree
+from tests.helper import follows
+from tests.helper import follows_again
+from tests.helper import plus
+from tests.helper import products_within
+from tests.helper import random_polynomial
+from tests.helper import times
+from tests.helper import write
+
+
+def random_told(rng, names):
+    told = [random_polynomial(rng, names, rng.randint(0, 3), 4, 3, rng.choice([1, 1, 3]))
+            for index in range(rng.randint(0, 3))]
+    if len(told) > 1 and rng.random() < 0.3:
+        # So that multiples that aren't needed come up more often than by chance.
+        product = rng.choice(products_within(1, len(names)))
+        told[-1] = times({product: rng.choice([1, -2])}, told[0])
+    return told
+
+
+def random_p(rng, names, d, told):
+    """Now and then one that follows for certain."""
+    if rng.random() < 0.3:
+        return random_polynomial(rng, names, d, 4, 3, 2)
+    p = {}
+    for equation in told:
+        if degree(equation) <= d:
+            factor = random_polynomial(rng, names, d - degree(equation), 2, 2, 1)
+            p = plus(p, times(factor, equation))
+    return p
+
+
+def random_case(seed):
+    rng = random.Random(seed)
+    names = rng.choice(["x", "xy", "xyz", "ab", "amz"])
+    d = rng.randint(0, 5 if len(names) < 3 else 4)
+    told = random_told(rng, names)
+    p = random_p(rng, names, d, told)
+    if len(p) > 12:
+        p = {}
+    return (d, names, write(p, names)) + tuple(write(equation, names) for equation in told)
+
+
+class AgainstTheWords(unittest.TestCase):
+    def test_follows(self):
+        seen = {True: 0, False: 0}
+        for seed in range(600):
+            case = random_case(seed)
+            with self.subTest(case=case):
+                wanted = follows_again(*case)
+                self.assertEqual(follows(*case), wanted)
+                seen[wanted == 0] += 1
+        self.assertGreater(min(seen.values()), 50)
+
+
+if __name__ == "__main__":
+    unittest.main()

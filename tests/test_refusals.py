@@ -1,0 +1,159 @@
+"""What is refused, and which of several refusals is answered."""
+
+import unittest
+
+from equationfollow import equations
+from tests.helper import to_bytes
+
+LAST = 4294967295
+BAD_LETTERS = [[], [23, 24, 25, 25], [0, 1, 2, 3], [24, 23], [23, 23], [23, 24, 24], [25, 24, 23], [26], [23, 26], [23, 24, 26],
+               [LAST], [0, LAST], [LAST, 0], [0, 1, 2, 3, 4, 5, 6, 7], [LAST] * 8]
+GOOD_LETTERS = [[0], [25], [0, 25], [0, 1, 2], [23, 24, 25], [3, 9, 20]]
+TOO_LARGE = [
+    "x^6", "x^5*y", "x^3*y^3", "x^6 - 1", "x^99999", "10000", "-10000", "10000*x", "x - 10000", "1/10000", "10000/3", "9999/10000",
+    "x + 1/12345*y", "x - 12345/7",
+    "x^4 + x^3*y + x^2*y^2 + x*y^3 + y^4 + x^3 + x^2*y + x*y^2 + y^3 + x^2 + x*y + y^2 + x",
+    "x^4 + x^3*y + x^2*y^2 + x*y^3 + y^4 + x^3 + x^2*y + x*y^2 + y^3 + x^2 + x*y + y^2 + 1",
+]
+JUST_FITTING = [
+    "x^5", "x^4*y", "x^2*y^3", "9999", "-9999", "9999*x", "1/9999", "9998/9999*x - 9999/9998",
+    "x^4 + x^3*y + x^2*y^2 + x*y^3 + y^4 + x^3 + x^2*y + x*y^2 + y^3 + x^2 + x*y + y^2",
+    "x^4 + x^3*y + x^2*y^2 + x*y^3 + y^4 + x^3 + x^2*y + x*y^2 + y^3 + x^2 + x*y + 1",
+]
+OTHER_LETTER = ["z", "a", "x + z", "x*z", "a*x", "x^2 - z^2", "z^6", "10000*z", "a^99999"]
+
+
+def call_follows(letters, *texts, d=5):
+    return equations.follows(d, letters, [to_bytes(text) for text in texts])
+
+
+class Follows(unittest.TestCase):
+    CALL = staticmethod(call_follows)
+
+    def refused(self, wanted, letters, *texts):
+        with self.subTest(letters=letters, texts=texts):
+            self.assertEqual(self.CALL(letters, *texts), [wanted])
+
+    def taken(self, letters, *texts):
+        with self.subTest(letters=letters, texts=texts):
+            self.assertNotIn(self.CALL(letters, *texts), ([-1], [-2], [-4], [-6]))
+
+    def test_letters(self):
+        for letters in BAD_LETTERS:
+            self.refused(-4, letters, "0")
+            self.refused(-4, letters, "1", "1")
+        for letters in GOOD_LETTERS:
+            self.taken(letters, "0")
+            self.taken(letters, "1", "1")
+
+    def test_letters_ahead_of_all_else(self):
+        for letters in BAD_LETTERS:
+            self.refused(-4, letters)
+            self.refused(-4, letters, "0", "0", "0", "0", "0")
+            self.refused(-4, letters, "")
+            self.refused(-4, letters, "x^6")
+
+    def test_no_text(self):
+        self.refused(-2, [23])
+        self.refused(-2, [0, 1, 2])
+
+    def test_how_many_equations(self):
+        self.taken([23], "x", "x")
+        self.taken([23], "x", "x", "x", "x")
+        self.refused(-2, [23], "x", "x", "x", "x", "x")
+        self.refused(-2, [23], "0", "0", "0", "0", "0")
+        self.refused(-2, [23], "x", "x", "x", "x", "x", "x")
+
+    def test_too_many_equations_ahead_of_texts(self):
+        self.refused(-2, [23], "", "", "", "", "")
+        self.refused(-2, [23], "z", "x", "x", "x", "x")
+
+    def test_texts_ahead_of_other_letters(self):
+        for other in OTHER_LETTER:
+            self.refused(-1, [23, 24], other, "")
+            self.refused(-1, [23, 24], "", other)
+            self.refused(-1, [23, 24], "x", other, "x", "x^1")
+            self.refused(-1, [23, 24], other + " ")
+
+    def test_texts_ahead_of_large_ones(self):
+        for large in TOO_LARGE:
+            self.refused(-1, [23, 24], large, "x + x")
+            self.refused(-1, [23, 24], "x + x", "0", large)
+
+    def test_other_letters(self):
+        for other in OTHER_LETTER:
+            self.refused(-4, [23, 24], other)
+            self.refused(-4, [23, 24], "x", other)
+            self.refused(-4, [23, 24], "x", "x", "x", other)
+        self.refused(-4, [23], "x + y")
+        self.refused(-4, [24], "x + y")
+        self.refused(-4, [22, 25], "x")
+
+    def test_other_letters_ahead_of_large_ones(self):
+        for large in TOO_LARGE:
+            self.refused(-4, [23, 24], large, "z")
+            self.refused(-4, [23, 24], "z", large)
+            self.refused(-4, [23, 24], large, "0", large, "z")
+
+    def test_large_ones(self):
+        for large in TOO_LARGE:
+            self.refused(-2, [23, 24], large)
+            self.refused(-2, [23, 24], "0", large)
+            self.refused(-2, [23, 24], "x", "y", "x", large)
+            self.refused(-2, [23, 24, 25], "x", large)
+
+    def test_those_just_fitting(self):
+        for text in JUST_FITTING:
+            self.taken([23, 24], text)
+            self.taken([23, 24], "0", text)
+            self.taken([23, 24], text, text)
+
+
+class FollowsWithin(unittest.TestCase):
+    def refused(self, wanted, d, letters, *texts):
+        with self.subTest(d=d, letters=letters, texts=texts):
+            self.assertEqual(call_follows(letters, *texts, d=d), [wanted])
+
+    def test_d(self):
+        for d in (6, 7, 100, LAST):
+            self.refused(-2, d, [23], "x", "x")
+        for d in range(1, 6):
+            self.assertEqual(call_follows([23], "x", "x", d=d), [1, 1, 49])
+
+    def test_letters_ahead_of_d(self):
+        self.refused(-4, 6, [], "x")
+        self.refused(-4, LAST, [24, 23], "x")
+
+    def test_d_ahead_of_texts(self):
+        self.refused(-2, 6, [23], "")
+        self.refused(-2, 6, [23], "z")
+        self.refused(-2, 6, [23], "x", "x + x")
+
+    def test_p_above_d(self):
+        for d in range(5):
+            p = f"x^{d + 1}" if d else "x"
+            self.refused(-6, d, [23], p)
+            self.refused(-6, d, [23], p, "1")
+            self.refused(-6, d, [23, 24], p, "x", "y")
+            self.assertNotEqual(call_follows([23], p, "1", d=d + 1), [-6])
+        self.refused(-6, 1, [23, 24], "x*y - 2", "x + y")
+        self.refused(-6, 0, [23, 24, 25], "x + y + z", "x + y + z")
+
+    def test_only_ps_degree_counts(self):
+        self.assertEqual(call_follows([23], "0", "x^5", d=0), [1, 1, 48])
+        self.assertEqual(call_follows([23], "1", "x^5", d=0), [0])
+
+    def test_all_else_ahead_of_p_above_d(self):
+        self.refused(-4, 0, [26], "x")
+        self.refused(-2, 0, [23], "x", "x", "x", "x", "x")
+        self.refused(-1, 0, [23], "x", "")
+        self.refused(-1, 0, [23], "x ")
+        self.refused(-4, 0, [23], "x", "y")
+        self.refused(-4, 0, [23], "y")
+        self.refused(-2, 0, [23], "x", "x^6")
+        self.refused(-2, 0, [23], "x^6")
+        self.refused(-2, 0, [23], "x - 10000")
+
+
+if __name__ == "__main__":
+    unittest.main()
