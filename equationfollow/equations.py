@@ -8,9 +8,11 @@ these. A refusal is a number below 0, alone.
 from equationfollow.following import how_it_follows
 from equationfollow.products import degree_of
 from equationfollow.reading import read_polynomial
+from equationfollow.refusals import LARGEST_DEGREE
 from equationfollow.refusals import first_refusal
 from equationfollow.writing import written
 
+NOT_WITHIN_LARGEST = -5
 ABOVE_D = -6
 
 
@@ -43,3 +45,16 @@ def follows(d, letters, texts):
     if how is None:
         return [0]
     return answer_of(1, how, letters)
+
+
+def when(letters, texts):
+    polynomials = [read_polynomial(text) for text in texts]
+    refusal = first_refusal(LARGEST_DEGREE, letters, polynomials)
+    if refusal < 0:
+        return [refusal]
+    told = [in_letters(polynomial, letters) for polynomial in polynomials]
+    # What follows within d has no degree above d.
+    for d in range(degree_of(told[0]), LARGEST_DEGREE + 1):
+        if how_it_follows(d, len(letters), told[0], told[1:]) is not None:
+            return [d]
+    return [NOT_WITHIN_LARGEST]

@@ -40,6 +40,12 @@ def follows(d, names, p, *told):
     return answer[0]
 
 
+def when(names, p, *told):
+    answer = equations.when(letter_numbers(names), [to_bytes(text) for text in (p,) + told])
+    assert len(answer) == 1, answer
+    return answer[0]
+
+
 def order(product):
     return (sum(product), product)
 
@@ -160,6 +166,14 @@ def follows_again(d, names, p, *told):
     for (index, product), number in taken.items():
         answers[index][product] = number
     return [write(answer, names) for answer in answers]
+
+
+def when_again(names, p, *told):
+    """The least d within which p follows, or -5."""
+    for d in range(6):
+        if follows_again(d, names, p, *told) != 0:
+            return d
+    return -5
 
 
 def total_of(names, factors, told):

@@ -42,10 +42,18 @@ class Kept(unittest.TestCase):
             with self.subTest(d=d, letters=letters, texts=texts):
                 self.check(equations.follows, d, list(letters), [to_bytes(text) for text in texts])
 
-    def test_follows_whatever_came_before(self):
+    def test_when(self):
+        for d, letters, texts in CASES:
+            with self.subTest(letters=letters, texts=texts):
+                self.check(equations.when, list(letters), [to_bytes(text) for text in texts])
+
+    def test_whatever_came_before(self):
         def answers(cases):
-            return [equations.follows(d, list(letters), [to_bytes(text) for text in texts])
-                    for d, letters, texts in cases]
+            found = []
+            for d, letters, told in cases:
+                texts = [to_bytes(text) for text in told]
+                found.append((equations.follows(d, list(letters), texts), equations.when(list(letters), texts)))
+            return found
         self.assertEqual(answers(CASES), answers(CASES[::-1])[::-1])
 
     def test_one_list_handed_in_twice(self):

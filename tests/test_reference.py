@@ -10,6 +10,8 @@ from tests.helper import plus
 from tests.helper import products_within
 from tests.helper import random_polynomial
 from tests.helper import times
+from tests.helper import when
+from tests.helper import when_again
 from tests.helper import write
 
 
@@ -56,6 +58,16 @@ class AgainstTheWords(unittest.TestCase):
                 self.assertEqual(follows(*case), wanted)
                 seen[wanted == 0] += 1
         self.assertGreater(min(seen.values()), 50)
+
+    def test_when(self):
+        seen = {}
+        for seed in range(300):
+            d, *case = random_case(1000 + seed)
+            with self.subTest(case=case):
+                wanted = when_again(*case)
+                self.assertEqual(when(*case), wanted)
+                seen[wanted] = seen.get(wanted, 0) + 1
+        self.assertEqual(sorted(seen), [-5, 0, 1, 2, 3, 4, 5])
 
 
 if __name__ == "__main__":

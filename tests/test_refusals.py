@@ -27,16 +27,20 @@ def call_follows(letters, *texts, d=5):
     return equations.follows(d, letters, [to_bytes(text) for text in texts])
 
 
-class Follows(unittest.TestCase):
-    CALL = staticmethod(call_follows)
+def call_when(letters, *texts):
+    return equations.when(letters, [to_bytes(text) for text in texts])
 
+
+class BothCalls(unittest.TestCase):
     def refused(self, wanted, letters, *texts):
-        with self.subTest(letters=letters, texts=texts):
-            self.assertEqual(self.CALL(letters, *texts), [wanted])
+        for call in (call_follows, call_when):
+            with self.subTest(call=call.__name__, letters=letters, texts=texts):
+                self.assertEqual(call(letters, *texts), [wanted])
 
     def taken(self, letters, *texts):
-        with self.subTest(letters=letters, texts=texts):
-            self.assertNotIn(self.CALL(letters, *texts), ([-1], [-2], [-4], [-6]))
+        for call in (call_follows, call_when):
+            with self.subTest(call=call.__name__, letters=letters, texts=texts):
+                self.assertNotIn(call(letters, *texts), ([-1], [-2], [-4], [-6]))
 
     def test_letters(self):
         for letters in BAD_LETTERS:
@@ -153,6 +157,26 @@ class FollowsWithin(unittest.TestCase):
         self.refused(-2, 0, [23], "x", "x^6")
         self.refused(-2, 0, [23], "x^6")
         self.refused(-2, 0, [23], "x - 10000")
+
+
+class When(unittest.TestCase):
+    def refused(self, wanted, letters, *texts):
+        with self.subTest(letters=letters, texts=texts):
+            self.assertEqual(call_when(letters, *texts), [wanted])
+
+    def test_not_within_5(self):
+        self.refused(-5, [23], "x")
+        self.refused(-5, [23], "x^5", "x - 1")
+        self.refused(-5, [23, 24], "1", "x", "y", "0")
+
+    def test_all_else_ahead_of_not_within_5(self):
+        self.refused(-4, [26], "x", "y")
+        self.refused(-2, [23], "x", "x^2", "x^2", "x^2", "x^2")
+        self.refused(-1, [23], "x", "x^2 ")
+        self.refused(-4, [23], "x", "y")
+        self.refused(-2, [23], "x", "x^6")
+        self.refused(-2, [23], "x^6", "x^2")
+        self.refused(-2, [23], "10000", "x^2")
 
 
 if __name__ == "__main__":

@@ -9,6 +9,7 @@ from tests.helper import follows
 from tests.helper import is_polynomial_text
 from tests.helper import random_polynomial
 from tests.helper import to_bytes
+from tests.helper import when
 from tests.helper import write
 
 NOT_A_POLYNOMIAL = [
@@ -50,6 +51,7 @@ class Texts(unittest.TestCase):
             for texts in self.places(text):
                 with self.subTest(texts=texts):
                     self.assertEqual(follows(5, "xy", *texts), -1)
+                    self.assertEqual(when("xy", *texts), -1)
 
     def test_those_that_are(self):
         for text in A_POLYNOMIAL:
@@ -57,6 +59,7 @@ class Texts(unittest.TestCase):
             for texts in self.places(text):
                 with self.subTest(texts=texts):
                     self.assertNotIn(follows(5, "xy", *texts), (-1, -2, -4, -6))
+                    self.assertNotIn(when("xy", *texts), (-1, -2, -4))
 
     def test_all_single_bytes(self):
         for byte in range(256):
