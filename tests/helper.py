@@ -151,15 +151,20 @@ def remainder(polynomial, kept):
     return polynomial, taken
 
 
-def follows_again(d, names, p, *told):
-    """How p follows, as the document's words tell it, or 0."""
-    told = [read(text, names) for text in told]
+def kept_multiples(d, names, told):
+    """By their highest products, what the needed multiples leave of one another, and how each is made of them."""
     kept = {}
     for label, multiple in multiples(d, len(names), told):
         left, taken = remainder(multiple, kept)
         if left:
             kept[max(left, key=order)] = (left, plus({label: Fraction(1)}, taken, -1))
-    left, taken = remainder(read(p, names), kept)
+    return kept
+
+
+def follows_again(d, names, p, *told):
+    """How p follows, as the document's words tell it, or 0."""
+    told = [read(text, names) for text in told]
+    left, taken = remainder(read(p, names), kept_multiples(d, names, told))
     if left:
         return 0
     answers = [{} for equation in told]

@@ -1,6 +1,8 @@
 """What is handed in stays as it was, and nothing is kept from one call to the next."""
 
+import contextlib
 import copy
+import io
 import unittest
 
 from equationfollow import equations
@@ -55,6 +57,14 @@ class Kept(unittest.TestCase):
                 found.append((equations.follows(d, list(letters), texts), equations.when(list(letters), texts)))
             return found
         self.assertEqual(answers(CASES), answers(CASES[::-1])[::-1])
+
+    def test_nothing_is_printed(self):
+        with contextlib.redirect_stdout(io.StringIO()) as out, contextlib.redirect_stderr(io.StringIO()) as errors:
+            for d, letters, told in CASES:
+                texts = [to_bytes(text) for text in told]
+                equations.follows(d, letters, texts)
+                equations.when(letters, texts)
+        self.assertEqual(out.getvalue() + errors.getvalue(), "")
 
     def test_one_list_handed_in_twice(self):
         text = to_bytes("x - 1")

@@ -6,6 +6,7 @@ import unittest
 from tests.helper import degree
 from tests.helper import follows
 from tests.helper import follows_again
+from tests.helper import kept_multiples
 from tests.helper import plus
 from tests.helper import products_within
 from tests.helper import random_polynomial
@@ -37,15 +38,30 @@ def random_p(rng, names, d, told):
     return p
 
 
+def fits(p):
+    return len(p) <= 12 and all(max(abs(number.numerator), number.denominator) <= 9999 for number in p.values())
+
+
 def random_case(seed):
     rng = random.Random(seed)
     names = rng.choice(["x", "xy", "xyz", "ab", "amz"])
     d = rng.randint(0, 5 if len(names) < 3 else 4)
     told = random_told(rng, names)
     p = random_p(rng, names, d, told)
-    if len(p) > 12:
+    if not fits(p):
         p = {}
     return (d, names, write(p, names)) + tuple(write(equation, names) for equation in told)
+
+
+def cases_beyond(seed):
+    """What follows within d + 1 or d + 2 and has no degree above d: within d it may follow or not."""
+    rng = random.Random(seed)
+    names = rng.choice(["xy", "xyz"])
+    told = [random_polynomial(rng, names, rng.randint(1, 3), 3, 1, 1) for index in range(rng.randint(2, 3))]
+    d = rng.randint(1, 3)
+    for highest, (p, how) in kept_multiples(d + rng.randint(1, 2), names, told).items():
+        if sum(highest) <= d and fits(p):
+            yield (d, names, write(p, names)) + tuple(write(equation, names) for equation in told)
 
 
 class AgainstTheWords(unittest.TestCase):
@@ -57,6 +73,17 @@ class AgainstTheWords(unittest.TestCase):
                 wanted = follows_again(*case)
                 self.assertEqual(follows(*case), wanted)
                 seen[wanted == 0] += 1
+        self.assertGreater(min(seen.values()), 50)
+
+    def test_beyond_the_degree(self):
+        seen = {True: 0, False: 0}
+        for seed in range(250):
+            for case in cases_beyond(seed):
+                with self.subTest(case=case):
+                    wanted = follows_again(*case)
+                    self.assertEqual(follows(*case), wanted)
+                    self.assertEqual(when(*case[1:]), when_again(*case[1:]))
+                    seen[wanted == 0] += 1
         self.assertGreater(min(seen.values()), 50)
 
     def test_when(self):
