@@ -1,10 +1,11 @@
-"""The calls: what follows from equations, and how.
+"""The calls: what follows from equations, how, and what they leave of what doesn't.
 
 The letters are told by their numbers, the polynomials by their texts' bytes, first p's, then each
 equation's. What is answered is one list: a number, then each text as how many bytes it has and
 these. A refusal is a number below 0, alone.
 """
 
+from equationfollow.consequences import what_is_left
 from equationfollow.following import how_it_follows
 from equationfollow.products import degree_of
 from equationfollow.reading import read_polynomial
@@ -33,13 +34,19 @@ def answer_of(number, polynomials, letters):
     return answer
 
 
+# The one told first of those that all calls with d and p have in common, or 0.
+def refusal_within(d, letters, polynomials):
+    refusal = first_refusal(d, letters, polynomials)
+    if refusal == 0 and degree_of(polynomials[0]) > d:
+        return ABOVE_D
+    return refusal
+
+
 def follows(d, letters, texts):
     polynomials = [read_polynomial(text) for text in texts]
-    refusal = first_refusal(d, letters, polynomials)
+    refusal = refusal_within(d, letters, polynomials)
     if refusal < 0:
         return [refusal]
-    if degree_of(polynomials[0]) > d:
-        return [ABOVE_D]
     told = [in_letters(polynomial, letters) for polynomial in polynomials]
     how = how_it_follows(d, len(letters), told[0], told[1:])
     if how is None:
@@ -58,3 +65,13 @@ def when(letters, texts):
         if how_it_follows(d, len(letters), told[0], told[1:]) is not None:
             return [d]
     return [NOT_WITHIN_LARGEST]
+
+
+def left(d, letters, texts):
+    polynomials = [read_polynomial(text) for text in texts]
+    refusal = refusal_within(d, letters, polynomials)
+    if refusal < 0:
+        return [refusal]
+    told = [in_letters(polynomial, letters) for polynomial in polynomials]
+    rest = what_is_left(d, len(letters), told[0], told[1:])
+    return answer_of(1, [rest], letters)

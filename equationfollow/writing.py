@@ -14,8 +14,8 @@ def product_text(product, letters):
     return "*".join(powers)
 
 
-# A number's sign isn't written here. Of what follows within 5 no whole number has 3000 digits: so
-# few are written by any Python.
+# A number's sign isn't written here. Of what is answered within 5 no whole number has 3000 digits:
+# so few are written by any Python.
 def number_text(top, bottom):
     first = str(abs(top))
     if bottom == 1:

@@ -9,6 +9,15 @@ from fractions import Fraction
 
 from equationfollow import equations
 
+# Equations with long numbers: what is made of them has hundreds of digits.
+LARGE_FIRST = ("1111/9973*x^2 - 2719/9967*x*y + 3517/9949*x*z + 4373/9941*y^2 - 5519/9931*y*z + 6791/9929*z^2"
+               " + 7919/9923*x - 8563/9907*y + 9181/9901*z - 9467/9887")
+LARGE_SECOND = ("9871/9013*x^2 + 8887/9011*x*y - 7877/9007*x*z + 6869/9001*y^2 + 5857/8999*y*z - 4831/8971*z^2"
+                " - 3821/8969*x + 2803/8963*y - 1801/8951*z + 1009/8941")
+LARGE_THIRD = "8677/7001"
+LARGE_TWELVE = ("9857/8863*x^3 - 8867/8861*x^2*y + 7867/8849*x*y*z + 6857/8839*y^3 - 5851/8837*y^2*z + 4817/8831*z^3"
+                " + 3803/8821*x^2 - 2801/8819*x*y + 1801/8807*y*z - 1201/8803*x + 1103/8783*z - 1051/8779")
+
 
 def letter_numbers(names):
     return [ord(name) - ord("a") for name in names]
@@ -42,6 +51,17 @@ def follows(d, names, p, *told):
 
 def when(names, p, *told):
     answer = equations.when(letter_numbers(names), [to_bytes(text) for text in (p,) + told])
+    assert len(answer) == 1, answer
+    return answer[0]
+
+
+def left(d, names, p, *told):
+    """The one text behind the number 1, or the number alone."""
+    answer = equations.left(d, letter_numbers(names), [to_bytes(text) for text in (p,) + told])
+    if answer[0] == 1:
+        texts = texts_of(answer)
+        assert len(texts) == 1, answer
+        return texts[0]
     assert len(answer) == 1, answer
     return answer[0]
 
@@ -181,12 +201,24 @@ def when_again(names, p, *told):
     return -5
 
 
+def left_again(d, names, p, *told):
+    """What's left of p, as the document's words tell it."""
+    told = [read(text, names) for text in told]
+    rest, taken = remainder(read(p, names), kept_multiples(d, names, told))
+    return write(rest, names)
+
+
 def total_of(names, factors, told):
     """The factors times the equations, added up, as a text."""
     total = {}
     for factor, equation in zip(factors, told, strict=True):
         total = plus(total, times(read(factor, names), read(equation, names)))
     return write(total, names)
+
+
+def digits_of(texts):
+    """How many digits the longest whole number has."""
+    return max(len(number) for text in texts for number in re.findall("[0-9]+", text))
 
 
 def random_polynomial(rng, names, d, most, largest, bottom):

@@ -1,9 +1,13 @@
 """follows: whether something follows within a degree, and how."""
 
-import re
 import unittest
 
 from equationfollow import equations
+from tests.helper import LARGE_FIRST
+from tests.helper import LARGE_SECOND
+from tests.helper import LARGE_THIRD
+from tests.helper import LARGE_TWELVE
+from tests.helper import digits_of
 from tests.helper import follows
 from tests.helper import follows_again
 from tests.helper import letter_numbers
@@ -150,29 +154,20 @@ class Edges(Case):
 
 
 class LargeNumbers(Case):
-    FIRST = ("1111/9973*x^2 - 2719/9967*x*y + 3517/9949*x*z + 4373/9941*y^2 - 5519/9931*y*z + 6791/9929*z^2"
-             " + 7919/9923*x - 8563/9907*y + 9181/9901*z - 9467/9887")
-    SECOND = ("9871/9013*x^2 + 8887/9011*x*y - 7877/9007*x*z + 6869/9001*y^2 + 5857/8999*y*z - 4831/8971*z^2"
-              " - 3821/8969*x + 2803/8963*y - 1801/8951*z + 1009/8941")
-    THIRD = "8677/7001"
-    TWELVE = ("9857/8863*x^3 - 8867/8861*x^2*y + 7867/8849*x*y*z + 6857/8839*y^3 - 5851/8837*y^2*z + 4817/8831*z^3"
-              " + 3803/8821*x^2 - 2801/8819*x*y + 1801/8807*y*z - 1201/8803*x + 1103/8783*z - 1051/8779")
-
     def check_large(self, d, names, p, told, digits):
         answer = follows(d, names, p, *told)
         self.assertNotEqual(answer, 0)
         self.assertEqual(answer, follows_again(d, names, p, *told))
         self.assertEqual(total_of(names, answer, told), p)
-        longest = max(len(number) for text in answer for number in re.findall("[0-9]+", text))
-        self.assertGreaterEqual(longest, digits)
+        self.assertGreaterEqual(digits_of(answer), digits)
 
     def test_three_letters(self):
         p = "x^5 - y^3*z^2 + z^5 + 7/11*x"
-        self.check_large(5, "xyz", p, [self.FIRST, self.SECOND, self.THIRD], 200)
+        self.check_large(5, "xyz", p, [LARGE_FIRST, LARGE_SECOND, LARGE_THIRD], 200)
 
     def test_twelve_products(self):
         p = "x^5 + 9999/9998*y^5 - z^5 + x*y*z"
-        self.check_large(5, "xyz", p, [self.TWELVE, self.FIRST, self.THIRD], 200)
+        self.check_large(5, "xyz", p, [LARGE_TWELVE, LARGE_FIRST, LARGE_THIRD], 200)
 
     def test_no_solution(self):
         told = ["9973/9967*x^2 - 8861/8849*x*y + 7001/6997*y^2 + 6007/6011*x - 5003/5009*y + 4003/4001",
@@ -181,7 +176,7 @@ class LargeNumbers(Case):
         self.check_large(5, "xy", "1", told, 200)
 
     def test_one_that_does_not_follow(self):
-        self.check(5, "xyz", "x^5 - 1", [self.FIRST, self.SECOND, self.TWELVE], 0)
+        self.check(5, "xyz", "x^5 - 1", [LARGE_FIRST, LARGE_SECOND, LARGE_TWELVE], 0)
 
     def test_letters_are_named_as_told(self):
         answer = equations.follows(1, letter_numbers("cq"), [to_bytes("c + q"), to_bytes("10*c + 10*q")])

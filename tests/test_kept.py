@@ -23,52 +23,65 @@ CASES = [
 ]
 
 
+def call_when(d, letters, texts):
+    return equations.when(letters, texts)
+
+
+CALLS = {"follows": equations.follows, "when": call_when, "left": equations.left}
+
+
 class Kept(unittest.TestCase):
-    def check(self, call, *handed):
+    def check(self, call, d, letters, texts):
+        handed = (letters, texts)
         before = copy.deepcopy(handed)
-        lists = [handed[-2], handed[-1]] + handed[-1]
-        first = call(*handed)
+        first = call(d, letters, texts)
         self.assertEqual(handed, before)
         wanted = list(first)
-        for given in lists:
+        for given in [letters, texts] + texts:
             self.assertIsNot(first, given)
         # What was answered belongs to the caller, who may change it.
         first.append(0)
         first[0] = 77
-        self.assertEqual(call(*handed), wanted)
+        self.assertEqual(call(d, letters, texts), wanted)
         self.assertEqual(handed, before)
-        return wanted
 
-    def test_follows(self):
-        for d, letters, texts in CASES:
-            with self.subTest(d=d, letters=letters, texts=texts):
-                self.check(equations.follows, d, list(letters), [to_bytes(text) for text in texts])
+    def test_twice(self):
+        for name, call in CALLS.items():
+            for d, letters, texts in CASES:
+                with self.subTest(call=name, d=d, letters=letters, texts=texts):
+                    self.check(call, d, list(letters), [to_bytes(text) for text in texts])
 
-    def test_when(self):
-        for d, letters, texts in CASES:
-            with self.subTest(letters=letters, texts=texts):
-                self.check(equations.when, list(letters), [to_bytes(text) for text in texts])
+    def test_the_lists_handed_in_are_not_taken_for_others(self):
+        # An answer that shared a list with what was handed in would change along with it.
+        for name, call in CALLS.items():
+            letters, texts = [23, 24], [to_bytes("x*y - 1"), to_bytes("x - y")]
+            first = call(2, letters, texts)
+            wanted = list(first)
+            letters.clear()
+            for text in texts:
+                text.clear()
+            self.assertEqual(first, wanted, name)
 
     def test_whatever_came_before(self):
         def answers(cases):
             found = []
             for d, letters, told in cases:
                 texts = [to_bytes(text) for text in told]
-                found.append((equations.follows(d, list(letters), texts), equations.when(list(letters), texts)))
+                found.append([call(d, list(letters), texts) for call in CALLS.values()])
             return found
         self.assertEqual(answers(CASES), answers(CASES[::-1])[::-1])
 
     def test_nothing_is_printed(self):
         with contextlib.redirect_stdout(io.StringIO()) as out, contextlib.redirect_stderr(io.StringIO()) as errors:
             for d, letters, told in CASES:
-                texts = [to_bytes(text) for text in told]
-                equations.follows(d, letters, texts)
-                equations.when(letters, texts)
+                for call in CALLS.values():
+                    call(d, letters, [to_bytes(text) for text in told])
         self.assertEqual(out.getvalue() + errors.getvalue(), "")
 
     def test_one_list_handed_in_twice(self):
         text = to_bytes("x - 1")
         self.assertEqual(equations.follows(1, [23], [text, text, text]), [1, 1, 49, 1, 48])
+        self.assertEqual(equations.left(1, [23], [text, text, text]), [1, 1, 48])
         self.assertEqual(text, to_bytes("x - 1"))
 
 

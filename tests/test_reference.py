@@ -7,9 +7,12 @@ from tests.helper import degree
 from tests.helper import follows
 from tests.helper import follows_again
 from tests.helper import kept_multiples
+from tests.helper import left
+from tests.helper import left_again
 from tests.helper import plus
 from tests.helper import products_within
 from tests.helper import random_polynomial
+from tests.helper import read
 from tests.helper import times
 from tests.helper import when
 from tests.helper import when_again
@@ -40,6 +43,16 @@ def random_p(rng, names, d, told):
 
 def fits(p):
     return len(p) <= 12 and all(max(abs(number.numerator), number.denominator) <= 9999 for number in p.values())
+
+
+def random_case_with_more(seed):
+    """Now and then p is made so that it follows but for a few products."""
+    d, names, p, *told = random_case(seed)
+    rng = random.Random(100000 + seed)
+    more = plus(read(p, names), random_polynomial(rng, names, d, 3, 3, 2))
+    if rng.random() < 0.6 and fits(more):
+        p = write(more, names)
+    return (d, names, p) + tuple(told)
 
 
 def random_case(seed):
@@ -75,6 +88,25 @@ class AgainstTheWords(unittest.TestCase):
                 seen[wanted == 0] += 1
         self.assertGreater(min(seen.values()), 50)
 
+    def test_left(self):
+        seen = {"nothing": 0, "p": 0, "else": 0}
+        for seed in range(600):
+            d, names, p, *told = random_case_with_more(3000 + seed)
+            with self.subTest(d=d, names=names, p=p, told=told):
+                rest = left(d, names, p, *told)
+                self.assertEqual(rest, left_again(d, names, p, *told))
+                self.check_rest(d, names, p, rest, told)
+                seen["nothing" if rest == "0" else "p" if rest == p else "else"] += 1
+        self.assertGreater(min(seen.values()), 50, seen)
+
+    def check_rest(self, d, names, p, rest, told):
+        rest_terms = read(rest, names)
+        if fits(rest_terms):
+            self.assertEqual(left(d, names, rest, *told), rest)
+        difference = plus(read(p, names), rest_terms, -1)
+        if fits(difference):
+            self.assertNotEqual(follows(d, names, write(difference, names), *told), 0)
+
     def test_beyond_the_degree(self):
         seen = {True: 0, False: 0}
         for seed in range(250):
@@ -83,6 +115,7 @@ class AgainstTheWords(unittest.TestCase):
                     wanted = follows_again(*case)
                     self.assertEqual(follows(*case), wanted)
                     self.assertEqual(when(*case[1:]), when_again(*case[1:]))
+                    self.assertEqual(left(*case), left_again(*case))
                     seen[wanted == 0] += 1
         self.assertGreater(min(seen.values()), 50)
 

@@ -31,14 +31,22 @@ def call_when(letters, *texts):
     return equations.when(letters, [to_bytes(text) for text in texts])
 
 
-class BothCalls(unittest.TestCase):
+def call_left(letters, *texts, d=5):
+    return equations.left(d, letters, [to_bytes(text) for text in texts])
+
+
+CALLS_WITHIN = (call_follows, call_left)
+CALLS = CALLS_WITHIN + (call_when,)
+
+
+class AllCalls(unittest.TestCase):
     def refused(self, wanted, letters, *texts):
-        for call in (call_follows, call_when):
+        for call in CALLS:
             with self.subTest(call=call.__name__, letters=letters, texts=texts):
                 self.assertEqual(call(letters, *texts), [wanted])
 
     def taken(self, letters, *texts):
-        for call in (call_follows, call_when):
+        for call in CALLS:
             with self.subTest(call=call.__name__, letters=letters, texts=texts):
                 self.assertNotIn(call(letters, *texts), ([-1], [-2], [-4], [-6]))
 
@@ -113,16 +121,24 @@ class BothCalls(unittest.TestCase):
             self.taken([23, 24], text, text)
 
 
-class FollowsWithin(unittest.TestCase):
+class Within(unittest.TestCase):
     def refused(self, wanted, d, letters, *texts):
-        with self.subTest(d=d, letters=letters, texts=texts):
-            self.assertEqual(call_follows(letters, *texts, d=d), [wanted])
+        for call in CALLS_WITHIN:
+            with self.subTest(call=call.__name__, d=d, letters=letters, texts=texts):
+                self.assertEqual(call(letters, *texts, d=d), [wanted])
 
     def test_d(self):
         for d in (6, 7, 100, LAST):
             self.refused(-2, d, [23], "x", "x")
+            self.refused(-2, d, [23], "0")
         for d in range(1, 6):
             self.assertEqual(call_follows([23], "x", "x", d=d), [1, 1, 49])
+            self.assertEqual(call_left([23], "x", "x", d=d), [1, 1, 48])
+
+    def test_no_text(self):
+        for d in (0, 5, 6, LAST):
+            self.refused(-2, d, [23])
+            self.refused(-4, d, [])
 
     def test_letters_ahead_of_d(self):
         self.refused(-4, 6, [], "x")
@@ -139,13 +155,16 @@ class FollowsWithin(unittest.TestCase):
             self.refused(-6, d, [23], p)
             self.refused(-6, d, [23], p, "1")
             self.refused(-6, d, [23, 24], p, "x", "y")
-            self.assertNotEqual(call_follows([23], p, "1", d=d + 1), [-6])
+            for call in CALLS_WITHIN:
+                self.assertNotEqual(call([23], p, "1", d=d + 1), [-6])
         self.refused(-6, 1, [23, 24], "x*y - 2", "x + y")
         self.refused(-6, 0, [23, 24, 25], "x + y + z", "x + y + z")
 
     def test_only_ps_degree_counts(self):
         self.assertEqual(call_follows([23], "0", "x^5", d=0), [1, 1, 48])
         self.assertEqual(call_follows([23], "1", "x^5", d=0), [0])
+        self.assertEqual(call_left([23], "0", "x^5", d=0), [1, 1, 48])
+        self.assertEqual(call_left([23], "1", "x^5", d=0), [1, 1, 49])
 
     def test_all_else_ahead_of_p_above_d(self):
         self.refused(-4, 0, [26], "x")

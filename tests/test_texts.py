@@ -7,6 +7,7 @@ import unittest
 from equationfollow import equations
 from tests.helper import follows
 from tests.helper import is_polynomial_text
+from tests.helper import left
 from tests.helper import random_polynomial
 from tests.helper import to_bytes
 from tests.helper import when
@@ -52,6 +53,7 @@ class Texts(unittest.TestCase):
                 with self.subTest(texts=texts):
                     self.assertEqual(follows(5, "xy", *texts), -1)
                     self.assertEqual(when("xy", *texts), -1)
+                    self.assertEqual(left(5, "xy", *texts), -1)
 
     def test_those_that_are(self):
         for text in A_POLYNOMIAL:
@@ -60,6 +62,12 @@ class Texts(unittest.TestCase):
                 with self.subTest(texts=texts):
                     self.assertNotIn(follows(5, "xy", *texts), (-1, -2, -4, -6))
                     self.assertNotIn(when("xy", *texts), (-1, -2, -4))
+                    self.assertIsInstance(left(5, "xy", *texts), str)
+
+    def test_those_that_are_written(self):
+        # Nothing follows from no equation, so p itself is written again.
+        for text in A_POLYNOMIAL:
+            self.assertEqual(left(5, "xy", text), text)
 
     def test_all_single_bytes(self):
         for byte in range(256):

@@ -1,0 +1,53 @@
+"""The consequences' basis within a degree, and what it leaves of a polynomial.
+
+The basis is kept as rows of whole numbers, each a polynomial of it times some number other than 0.
+A row has a column for each product, the higher first: so its first place that isn't 0 is its
+highest product's.
+"""
+
+from equationfollow.following import multiples_within
+from equationfollow.following import scale_of
+from equationfollow.following import scaled_multiple
+from equationfollow.products import products_within
+from equationfollow.rows import reduced
+from equationfollow.rows import with_zero_at
+from equationfollow.whole import lowest_terms
+
+
+# The products of a row's columns.
+def columns_within(d, letter_count):
+    return list(reversed(products_within(d, letter_count)))
+
+
+def row_of(product, polynomial, columns):
+    numbers = scaled_multiple(product, polynomial)
+    return [numbers.get(column, 0) for column in columns]
+
+
+# A row by the place of its highest product.
+def basis_rows(d, letter_count, equations):
+    columns = columns_within(d, letter_count)
+    rows = []
+    for index, product in multiples_within(d, letter_count, equations):
+        rows.append(row_of(product, equations[index], columns))
+    return reduced(rows)
+
+
+# Behind p's numbers stands what they were taken times. The basis has 0 there, so this one is taken
+# times whatever the others are, and tells in the end what they all are to be divided by.
+def left_by(basis, columns, p):
+    rest = row_of(columns[-1], p, columns) + [scale_of(p)]
+    for place, row in basis.items():
+        rest = with_zero_at(place, rest, row + [0])
+    terms = []
+    for product, top in zip(columns, rest[:-1]):
+        if top != 0:
+            number = lowest_terms(top, rest[-1])
+            terms.append((product, number[0], number[1]))
+    return terms
+
+
+# A polynomial. p's degree isn't above d.
+def what_is_left(d, letter_count, p, equations):
+    basis = basis_rows(d, letter_count, equations)
+    return left_by(basis, columns_within(d, letter_count), p)
