@@ -1,4 +1,4 @@
-"""The consequences' basis within a degree, and what it leaves of a polynomial.
+"""The consequences' basis within a degree, what it leaves of a polynomial, and the witness.
 
 The basis is kept as rows of whole numbers, each a polynomial of it times some number other than 0.
 A row has a column for each product, the higher first: so its first place that isn't 0 is its
@@ -49,5 +49,30 @@ def left_by(basis, columns, p):
 
 # A polynomial. p's degree isn't above d.
 def what_is_left(d, letter_count, p, equations):
+    columns = columns_within(d, letter_count)
     basis = basis_rows(d, letter_count, equations)
-    return left_by(basis, columns_within(d, letter_count), p)
+    return left_by(basis, columns, p)
+
+
+# By each product, the higher first, the number that the column's product has in what's left of it,
+# where that isn't 0. Of a highest product of the basis its polynomial's other terms are left, with
+# the other sign; any other product is left as it is. The column's isn't a highest one.
+def numbers_by(basis, columns, column):
+    terms = []
+    for place, product in enumerate(columns):
+        if place == column:
+            terms.append((product, 1, 1))
+        if place in basis and basis[place][column] != 0:
+            number = lowest_terms(-basis[place][column], basis[place][place])
+            terms.append((product, number[0], number[1]))
+    return terms
+
+
+# Terms as those of a polynomial; none if p follows.
+def witness_against(d, letter_count, p, equations):
+    columns = columns_within(d, letter_count)
+    basis = basis_rows(d, letter_count, equations)
+    rest = left_by(basis, columns, p)
+    if rest == []:
+        return []
+    return numbers_by(basis, columns, columns.index(rest[0][0]))

@@ -1,4 +1,4 @@
-"""The calls: what follows from equations, how, and what they leave of what doesn't.
+"""The calls: what follows from equations and how, what's left of something, and its witness.
 
 The letters are told by their numbers, the polynomials by their texts' bytes, first p's, then each
 equation's. What is answered is one list: a number, then each text as how many bytes it has and
@@ -6,14 +6,17 @@ these. A refusal is a number below 0, alone.
 """
 
 from equationfollow.consequences import what_is_left
+from equationfollow.consequences import witness_against
 from equationfollow.following import how_it_follows
 from equationfollow.products import degree_of
+from equationfollow.products import product_of
 from equationfollow.reading import read_polynomial
 from equationfollow.refusals import LARGEST_DEGREE
 from equationfollow.refusals import first_refusal
 from equationfollow.writing import written
 
 NOT_WITHIN_LARGEST = -5
+P_FOLLOWS = -5
 ABOVE_D = -6
 
 
@@ -75,3 +78,24 @@ def left(d, letters, texts):
     told = [in_letters(polynomial, letters) for polynomial in polynomials]
     rest = what_is_left(d, len(letters), told[0], told[1:])
     return answer_of(1, [rest], letters)
+
+
+# The product and the number, each as a polynomial: so the one without letters is "1".
+def as_two(term):
+    without_letters = product_of([0 for often in term[0][1:]])
+    return [[(term[0], 1, 1)], [(without_letters, term[1], term[2])]]
+
+
+def witness(d, letters, texts):
+    polynomials = [read_polynomial(text) for text in texts]
+    refusal = refusal_within(d, letters, polynomials)
+    if refusal < 0:
+        return [refusal]
+    told = [in_letters(polynomial, letters) for polynomial in polynomials]
+    terms = witness_against(d, len(letters), told[0], told[1:])
+    if terms == []:
+        return [P_FOLLOWS]
+    parts = []
+    for term in terms:
+        parts.extend(as_two(term))
+    return answer_of(len(terms), parts, letters)

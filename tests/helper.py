@@ -66,6 +66,17 @@ def left(d, names, p, *told):
     return answer[0]
 
 
+def witness(d, names, p, *told):
+    """Pairs of texts, a product and its number, or the number alone that is a refusal."""
+    answer = equations.witness(d, letter_numbers(names), [to_bytes(text) for text in (p,) + told])
+    if answer[0] < 0:
+        assert len(answer) == 1, answer
+        return answer[0]
+    texts = texts_of(answer)
+    assert len(texts) == 2 * answer[0], answer
+    return list(zip(texts[::2], texts[1::2]))
+
+
 def order(product):
     return (sum(product), product)
 
@@ -206,6 +217,30 @@ def left_again(d, names, p, *told):
     told = [read(text, names) for text in told]
     rest, taken = remainder(read(p, names), kept_multiples(d, names, told))
     return write(rest, names)
+
+
+def witness_again(d, names, p, *told):
+    """The witness against p, product by product as the document's words tell it, or -5."""
+    kept = kept_multiples(d, names, [read(text, names) for text in told])
+    rest, taken = remainder(read(p, names), kept)
+    if not rest:
+        return -5
+    highest = max(rest, key=order)
+    found = []
+    for product in reversed(products_within(d, len(names))):
+        rest_of_product, taken = remainder({product: Fraction(1)}, kept)
+        if highest in rest_of_product:
+            found.append((write({product: Fraction(1)}, names), str(rest_of_product[highest])))
+    return found
+
+
+def value_by(pairs, names, polynomial):
+    """The polynomial's numbers times those that the witness has for its products, added up."""
+    numbers = {}
+    for product, number in pairs:
+        ((counts, one),) = read(product, names).items()
+        numbers[counts] = Fraction(number)
+    return sum([number * numbers.get(product, 0) for product, number in polynomial.items()])
 
 
 def total_of(names, factors, told):

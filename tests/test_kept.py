@@ -27,7 +27,7 @@ def call_when(d, letters, texts):
     return equations.when(letters, texts)
 
 
-CALLS = {"follows": equations.follows, "when": call_when, "left": equations.left}
+CALLS = {"follows": equations.follows, "when": call_when, "left": equations.left, "witness": equations.witness}
 
 
 class Kept(unittest.TestCase):
@@ -82,6 +82,7 @@ class Kept(unittest.TestCase):
         text = to_bytes("x - 1")
         self.assertEqual(equations.follows(1, [23], [text, text, text]), [1, 1, 49, 1, 48])
         self.assertEqual(equations.left(1, [23], [text, text, text]), [1, 1, 48])
+        self.assertEqual(equations.witness(1, [23], [text, text, text]), [-5])
         self.assertEqual(text, to_bytes("x - 1"))
 
 

@@ -16,6 +16,8 @@ from tests.helper import read
 from tests.helper import times
 from tests.helper import when
 from tests.helper import when_again
+from tests.helper import witness
+from tests.helper import witness_again
 from tests.helper import write
 
 
@@ -107,6 +109,16 @@ class AgainstTheWords(unittest.TestCase):
         if fits(difference):
             self.assertNotEqual(follows(d, names, write(difference, names), *told), 0)
 
+    def test_witness(self):
+        seen = {"refused": 0, "one": 0, "several": 0}
+        for seed in range(600):
+            case = random_case_with_more(5000 + seed)
+            with self.subTest(case=case):
+                found = witness(*case)
+                self.assertEqual(found, witness_again(*case))
+                seen["refused" if found == -5 else "one" if len(found) == 1 else "several"] += 1
+        self.assertGreater(min(seen.values()), 50, seen)
+
     def test_beyond_the_degree(self):
         seen = {True: 0, False: 0}
         for seed in range(250):
@@ -116,6 +128,7 @@ class AgainstTheWords(unittest.TestCase):
                     self.assertEqual(follows(*case), wanted)
                     self.assertEqual(when(*case[1:]), when_again(*case[1:]))
                     self.assertEqual(left(*case), left_again(*case))
+                    self.assertEqual(witness(*case), witness_again(*case))
                     seen[wanted == 0] += 1
         self.assertGreater(min(seen.values()), 50)
 

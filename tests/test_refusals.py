@@ -35,7 +35,11 @@ def call_left(letters, *texts, d=5):
     return equations.left(d, letters, [to_bytes(text) for text in texts])
 
 
-CALLS_WITHIN = (call_follows, call_left)
+def call_witness(letters, *texts, d=5):
+    return equations.witness(d, letters, [to_bytes(text) for text in texts])
+
+
+CALLS_WITHIN = (call_follows, call_left, call_witness)
 CALLS = CALLS_WITHIN + (call_when,)
 
 
@@ -134,6 +138,7 @@ class Within(unittest.TestCase):
         for d in range(1, 6):
             self.assertEqual(call_follows([23], "x", "x", d=d), [1, 1, 49])
             self.assertEqual(call_left([23], "x", "x", d=d), [1, 1, 48])
+            self.assertEqual(call_witness([23], "x", "x", d=d), [-5])
 
     def test_no_text(self):
         for d in (0, 5, 6, LAST):
@@ -165,6 +170,8 @@ class Within(unittest.TestCase):
         self.assertEqual(call_follows([23], "1", "x^5", d=0), [0])
         self.assertEqual(call_left([23], "0", "x^5", d=0), [1, 1, 48])
         self.assertEqual(call_left([23], "1", "x^5", d=0), [1, 1, 49])
+        self.assertEqual(call_witness([23], "0", "x^5", d=0), [-5])
+        self.assertEqual(call_witness([23], "1", "x^5", d=0), [1, 1, 49, 1, 49])
 
     def test_all_else_ahead_of_p_above_d(self):
         self.refused(-4, 0, [26], "x")
@@ -176,6 +183,35 @@ class Within(unittest.TestCase):
         self.refused(-2, 0, [23], "x", "x^6")
         self.refused(-2, 0, [23], "x^6")
         self.refused(-2, 0, [23], "x - 10000")
+
+
+class Witness(unittest.TestCase):
+    def refused(self, wanted, d, letters, *texts):
+        with self.subTest(d=d, letters=letters, texts=texts):
+            self.assertEqual(call_witness(letters, *texts, d=d), [wanted])
+
+    def test_p_that_follows(self):
+        self.refused(-5, 0, [23], "0")
+        self.refused(-5, 5, [23], "x^5", "x")
+        self.refused(-5, 1, [23, 24], "x", "x - y", "0", "y")
+
+    def test_all_else_ahead_of_p_that_follows(self):
+        self.refused(-4, 5, [26], "0")
+        self.refused(-4, 5, [], "0", "0")
+        self.refused(-2, 6, [23], "0")
+        self.refused(-2, 5, [23], "x", "x", "x", "x", "x")
+        self.refused(-1, 5, [23], "0", "x", "x ")
+        self.refused(-1, 5, [23], "0 ")
+        self.refused(-4, 5, [23], "0", "y")
+        self.refused(-4, 5, [23], "y", "y")
+        self.refused(-2, 5, [23], "0", "x^6")
+        self.refused(-2, 5, [23], "x^6", "1")
+        self.refused(-2, 5, [23], "10000", "1")
+
+    def test_p_above_d_ahead_of_p_that_follows(self):
+        self.refused(-6, 0, [23], "x", "1")
+        self.refused(-6, 1, [23], "x^2", "x")
+        self.refused(-6, 4, [23], "x^5", "x^5")
 
 
 class When(unittest.TestCase):

@@ -11,6 +11,7 @@ from tests.helper import left
 from tests.helper import random_polynomial
 from tests.helper import to_bytes
 from tests.helper import when
+from tests.helper import witness
 from tests.helper import write
 
 NOT_A_POLYNOMIAL = [
@@ -54,6 +55,7 @@ class Texts(unittest.TestCase):
                     self.assertEqual(follows(5, "xy", *texts), -1)
                     self.assertEqual(when("xy", *texts), -1)
                     self.assertEqual(left(5, "xy", *texts), -1)
+                    self.assertEqual(witness(5, "xy", *texts), -1)
 
     def test_those_that_are(self):
         for text in A_POLYNOMIAL:
@@ -63,6 +65,7 @@ class Texts(unittest.TestCase):
                     self.assertNotIn(follows(5, "xy", *texts), (-1, -2, -4, -6))
                     self.assertNotIn(when("xy", *texts), (-1, -2, -4))
                     self.assertIsInstance(left(5, "xy", *texts), str)
+                    self.assertNotIn(witness(5, "xy", *texts), (-1, -2, -4, -6))
 
     def test_those_that_are_written(self):
         # Nothing follows from no equation, so p itself is written again.
