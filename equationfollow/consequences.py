@@ -33,18 +33,30 @@ def basis_rows(d, letter_count, equations):
     return reduced(rows)
 
 
+# The polynomial that the row is times the divisor.
+def divided(row, divisor, columns):
+    terms = []
+    for product, top in zip(columns, row):
+        if top != 0:
+            number = lowest_terms(top, divisor)
+            terms.append((product, number[0], number[1]))
+    return terms
+
+
+# Polynomials, the higher highest product first, with the number 1 there.
+def basis_within(d, letter_count, equations):
+    columns = columns_within(d, letter_count)
+    basis = basis_rows(d, letter_count, equations)
+    return [divided(basis[place], basis[place][place], columns) for place in sorted(basis)]
+
+
 # Behind p's numbers stands what they were taken times. The basis has 0 there, so this one is taken
 # times whatever the others are, and tells in the end what they all are to be divided by.
 def left_by(basis, columns, p):
     rest = row_of(columns[-1], p, columns) + [scale_of(p)]
     for place, row in basis.items():
         rest = with_zero_at(place, rest, row + [0])
-    terms = []
-    for product, top in zip(columns, rest[:-1]):
-        if top != 0:
-            number = lowest_terms(top, rest[-1])
-            terms.append((product, number[0], number[1]))
-    return terms
+    return divided(rest[:-1], rest[-1], columns)
 
 
 # A polynomial. p's degree isn't above d.

@@ -1,10 +1,12 @@
-"""The calls: what follows from equations and how, what's left of something, and its witness.
+"""The calls: what follows from equations and how, what's left of something and its witness, and the
+basis of all that follows.
 
-The letters are told by their numbers, the polynomials by their texts' bytes, first p's, then each
-equation's. What is answered is one list: a number, then each text as how many bytes it has and
-these. A refusal is a number below 0, alone.
+The letters are told by their numbers, the polynomials by their texts' bytes: first p's, where one is
+wanted, then each equation's. What is answered is one list: a number, then each text as how many
+bytes it has and these. A refusal is a number below 0, alone.
 """
 
+from equationfollow.consequences import basis_within
 from equationfollow.consequences import what_is_left
 from equationfollow.consequences import witness_against
 from equationfollow.following import how_it_follows
@@ -33,13 +35,14 @@ def answer_of(number, polynomials, letters):
     answer = [number]
     for polynomial in polynomials:
         text = written(polynomial, letters)
-        answer = answer + [len(text)] + text
+        answer.append(len(text))
+        answer.extend(text)
     return answer
 
 
 # The one told first of those that all calls with d and p have in common, or 0.
 def refusal_within(d, letters, polynomials):
-    refusal = first_refusal(d, letters, polynomials)
+    refusal = first_refusal(d, letters, 1, polynomials)
     if refusal == 0 and degree_of(polynomials[0]) > d:
         return ABOVE_D
     return refusal
@@ -59,7 +62,7 @@ def follows(d, letters, texts):
 
 def when(letters, texts):
     polynomials = [read_polynomial(text) for text in texts]
-    refusal = first_refusal(LARGEST_DEGREE, letters, polynomials)
+    refusal = first_refusal(LARGEST_DEGREE, letters, 1, polynomials)
     if refusal < 0:
         return [refusal]
     told = [in_letters(polynomial, letters) for polynomial in polynomials]
@@ -99,3 +102,13 @@ def witness(d, letters, texts):
     for term in terms:
         parts.extend(as_two(term))
     return answer_of(len(terms), parts, letters)
+
+
+def basis(d, letters, texts):
+    equations = [read_polynomial(text) for text in texts]
+    refusal = first_refusal(d, letters, 0, equations)
+    if refusal < 0:
+        return [refusal]
+    told = [in_letters(equation, letters) for equation in equations]
+    found = basis_within(d, len(letters), told)
+    return answer_of(len(found), found, letters)

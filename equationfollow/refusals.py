@@ -43,11 +43,12 @@ def is_too_large(polynomial):
     return False
 
 
-# The one told first, or 0. The polynomials are p's and the equations', read from their texts.
-def first_refusal(d, letters, polynomials):
+# The one told first, or 0. The polynomials are read from their texts: as many as stand ahead of the
+# equations (1 if p is wanted, 0 if not), then the equations.
+def first_refusal(d, letters, ahead, polynomials):
     if not are_letters(letters):
         return BAD_LETTERS
-    if d > LARGEST_DEGREE or len(polynomials) < 1 or len(polynomials) > 1 + MOST_EQUATIONS:
+    if d > LARGEST_DEGREE or len(polynomials) < ahead or len(polynomials) > ahead + MOST_EQUATIONS:
         return TOO_MUCH
     if None in polynomials:
         return BAD_TEXT

@@ -77,8 +77,23 @@ def witness(d, names, p, *told):
     return list(zip(texts[::2], texts[1::2]))
 
 
+def basis(d, names, *told):
+    """The texts, or the number alone that is a refusal."""
+    answer = equations.basis(d, letter_numbers(names), [to_bytes(text) for text in told])
+    if answer[0] < 0:
+        assert len(answer) == 1, answer
+        return answer[0]
+    texts = texts_of(answer)
+    assert len(texts) == answer[0], answer
+    return texts
+
+
 def order(product):
     return (sum(product), product)
+
+
+def highest_of(polynomial):
+    return max(polynomial, key=order)
 
 
 def products_within(d, count):
@@ -188,7 +203,7 @@ def kept_multiples(d, names, told):
     for label, multiple in multiples(d, len(names), told):
         left, taken = remainder(multiple, kept)
         if left:
-            kept[max(left, key=order)] = (left, plus({label: Fraction(1)}, taken, -1))
+            kept[highest_of(left)] = (left, plus({label: Fraction(1)}, taken, -1))
     return kept
 
 
@@ -225,13 +240,41 @@ def witness_again(d, names, p, *told):
     rest, taken = remainder(read(p, names), kept)
     if not rest:
         return -5
-    highest = max(rest, key=order)
+    highest = highest_of(rest)
     found = []
     for product in reversed(products_within(d, len(names))):
         rest_of_product, taken = remainder({product: Fraction(1)}, kept)
         if highest in rest_of_product:
             found.append((write({product: Fraction(1)}, names), str(rest_of_product[highest])))
     return found
+
+
+def basis_of(kept):
+    """Polynomials by their highest products, each less as much of the others as can be, with 1 at its highest product."""
+    found = []
+    for highest in sorted(kept, key=order, reverse=True):
+        others = {product: vector for product, vector in kept.items() if product != highest}
+        rest, taken = remainder(kept[highest][0], others)
+        found.append({product: number / rest[highest] for product, number in rest.items()})
+    return found
+
+
+def basis_again(d, names, *told):
+    """The consequences' basis, as the document's words tell it."""
+    kept = kept_multiples(d, names, [read(text, names) for text in told])
+    return [write(polynomial, names) for polynomial in basis_of(kept)]
+
+
+def rest_by(found, polynomial):
+    """What's left of a polynomial, less what these are times numbers."""
+    rest, taken = remainder(polynomial, {highest_of(one): (one, {}) for one in found})
+    return rest
+
+
+def fits(polynomial):
+    """Whether a call takes it, if its degree and letters are fine."""
+    numbers = polynomial.values()
+    return len(polynomial) <= 12 and all(max(abs(number.numerator), number.denominator) <= 9999 for number in numbers)
 
 
 def value_by(pairs, names, polynomial):

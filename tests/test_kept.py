@@ -27,7 +27,16 @@ def call_when(d, letters, texts):
     return equations.when(letters, texts)
 
 
-CALLS = {"follows": equations.follows, "when": call_when, "left": equations.left, "witness": equations.witness}
+# Of the calls without p the same equations.
+EQUATION_CASES = [(d, letters, texts[1:]) for d, letters, texts in CASES] + CASES
+
+CALLS = {
+    "follows": (equations.follows, CASES),
+    "when": (call_when, CASES),
+    "left": (equations.left, CASES),
+    "witness": (equations.witness, CASES),
+    "basis": (equations.basis, EQUATION_CASES),
+}
 
 
 class Kept(unittest.TestCase):
@@ -46,14 +55,14 @@ class Kept(unittest.TestCase):
         self.assertEqual(handed, before)
 
     def test_twice(self):
-        for name, call in CALLS.items():
-            for d, letters, texts in CASES:
+        for name, (call, cases) in CALLS.items():
+            for d, letters, texts in cases:
                 with self.subTest(call=name, d=d, letters=letters, texts=texts):
                     self.check(call, d, list(letters), [to_bytes(text) for text in texts])
 
     def test_the_lists_handed_in_are_not_taken_for_others(self):
         # An answer that shared a list with what was handed in would change along with it.
-        for name, call in CALLS.items():
+        for name, (call, cases) in CALLS.items():
             letters, texts = [23, 24], [to_bytes("x*y - 1"), to_bytes("x - y")]
             first = call(2, letters, texts)
             wanted = list(first)
@@ -63,18 +72,16 @@ class Kept(unittest.TestCase):
             self.assertEqual(first, wanted, name)
 
     def test_whatever_came_before(self):
-        def answers(cases):
-            found = []
-            for d, letters, told in cases:
-                texts = [to_bytes(text) for text in told]
-                found.append([call(d, list(letters), texts) for call in CALLS.values()])
-            return found
-        self.assertEqual(answers(CASES), answers(CASES[::-1])[::-1])
+        every = [(call, case) for call, cases in CALLS.values() for case in cases]
+
+        def answers(pairs):
+            return [call(d, list(letters), [to_bytes(text) for text in told]) for call, (d, letters, told) in pairs]
+        self.assertEqual(answers(every), answers(every[::-1])[::-1])
 
     def test_nothing_is_printed(self):
         with contextlib.redirect_stdout(io.StringIO()) as out, contextlib.redirect_stderr(io.StringIO()) as errors:
-            for d, letters, told in CASES:
-                for call in CALLS.values():
+            for call, cases in CALLS.values():
+                for d, letters, told in cases:
                     call(d, letters, [to_bytes(text) for text in told])
         self.assertEqual(out.getvalue() + errors.getvalue(), "")
 
@@ -83,6 +90,7 @@ class Kept(unittest.TestCase):
         self.assertEqual(equations.follows(1, [23], [text, text, text]), [1, 1, 49, 1, 48])
         self.assertEqual(equations.left(1, [23], [text, text, text]), [1, 1, 48])
         self.assertEqual(equations.witness(1, [23], [text, text, text]), [-5])
+        self.assertEqual(equations.basis(1, [23], [text, text, text]), [1, 5] + text)
         self.assertEqual(text, to_bytes("x - 1"))
 
 

@@ -3,7 +3,10 @@
 import random
 import unittest
 
+from tests.helper import basis
+from tests.helper import basis_again
 from tests.helper import degree
+from tests.helper import fits
 from tests.helper import follows
 from tests.helper import follows_again
 from tests.helper import kept_multiples
@@ -41,10 +44,6 @@ def random_p(rng, names, d, told):
             factor = random_polynomial(rng, names, d - degree(equation), 2, 2, 1)
             p = plus(p, times(factor, equation))
     return p
-
-
-def fits(p):
-    return len(p) <= 12 and all(max(abs(number.numerator), number.denominator) <= 9999 for number in p.values())
 
 
 def random_case_with_more(seed):
@@ -119,6 +118,16 @@ class AgainstTheWords(unittest.TestCase):
                 seen["refused" if found == -5 else "one" if len(found) == 1 else "several"] += 1
         self.assertGreater(min(seen.values()), 50, seen)
 
+    def test_basis(self):
+        seen = {"none": 0, "one": 0, "several": 0}
+        for seed in range(600):
+            d, names, p, *told = random_case(7000 + seed)
+            with self.subTest(d=d, names=names, told=told):
+                found = basis(d, names, *told)
+                self.assertEqual(found, basis_again(d, names, *told))
+                seen["none" if found == [] else "one" if len(found) == 1 else "several"] += 1
+        self.assertGreater(min(seen.values()), 50, seen)
+
     def test_beyond_the_degree(self):
         seen = {True: 0, False: 0}
         for seed in range(250):
@@ -129,6 +138,8 @@ class AgainstTheWords(unittest.TestCase):
                     self.assertEqual(when(*case[1:]), when_again(*case[1:]))
                     self.assertEqual(left(*case), left_again(*case))
                     self.assertEqual(witness(*case), witness_again(*case))
+                    d, names, p, *told = case
+                    self.assertEqual(basis(d, names, *told), basis_again(d, names, *told))
                     seen[wanted == 0] += 1
         self.assertGreater(min(seen.values()), 50)
 

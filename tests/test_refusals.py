@@ -39,18 +39,23 @@ def call_witness(letters, *texts, d=5):
     return equations.witness(d, letters, [to_bytes(text) for text in texts])
 
 
+def call_basis(letters, *texts, d=5):
+    return equations.basis(d, letters, [to_bytes(text) for text in texts])
+
+
 CALLS_WITHIN = (call_follows, call_left, call_witness)
-CALLS = CALLS_WITHIN + (call_when,)
+CALLS_WITH_P = CALLS_WITHIN + (call_when,)
+CALLS_WITHOUT_P = (call_basis,)
 
 
-class AllCalls(unittest.TestCase):
+class WithP(unittest.TestCase):
     def refused(self, wanted, letters, *texts):
-        for call in CALLS:
+        for call in CALLS_WITH_P:
             with self.subTest(call=call.__name__, letters=letters, texts=texts):
                 self.assertEqual(call(letters, *texts), [wanted])
 
     def taken(self, letters, *texts):
-        for call in CALLS:
+        for call in CALLS_WITH_P:
             with self.subTest(call=call.__name__, letters=letters, texts=texts):
                 self.assertNotIn(call(letters, *texts), ([-1], [-2], [-4], [-6]))
 
@@ -123,6 +128,104 @@ class AllCalls(unittest.TestCase):
             self.taken([23, 24], text)
             self.taken([23, 24], "0", text)
             self.taken([23, 24], text, text)
+
+
+class WithoutP(unittest.TestCase):
+    def refused(self, wanted, letters, *texts, d=5):
+        for call in CALLS_WITHOUT_P:
+            with self.subTest(call=call.__name__, d=d, letters=letters, texts=texts):
+                self.assertEqual(call(letters, *texts, d=d), [wanted])
+
+    def taken(self, letters, *texts, d=5):
+        for call in CALLS_WITHOUT_P:
+            with self.subTest(call=call.__name__, d=d, letters=letters, texts=texts):
+                self.assertGreaterEqual(call(letters, *texts, d=d)[0], 0)
+
+    def test_letters(self):
+        for letters in BAD_LETTERS:
+            self.refused(-4, letters)
+            self.refused(-4, letters, "0")
+            self.refused(-4, letters, "1", "1", "1", d=0)
+        for letters in GOOD_LETTERS:
+            self.taken(letters)
+            self.taken(letters, "0")
+            self.taken(letters, "1", "1", "1", d=0)
+
+    def test_letters_ahead_of_all_else(self):
+        for letters in BAD_LETTERS:
+            self.refused(-4, letters, d=6)
+            self.refused(-4, letters, "0", "0", "0", "0")
+            self.refused(-4, letters, "")
+            self.refused(-4, letters, "x^6")
+            self.refused(-4, letters, "x^6", "", "z", "10000", "0", d=LAST)
+
+    def test_d(self):
+        for d in range(6):
+            self.taken([23], d=d)
+            self.taken([23], "x", d=d)
+        for d in (6, 7, 100, LAST):
+            self.refused(-2, [23], d=d)
+            self.refused(-2, [23], "x", d=d)
+            self.refused(-2, [0, 24, 25], "0", "0", "0", d=d)
+
+    def test_how_many_equations(self):
+        self.taken([23])
+        self.taken([23], "x")
+        self.taken([23], "x", "x")
+        self.taken([23], "x", "x", "x")
+        self.refused(-2, [23], "x", "x", "x", "x")
+        self.refused(-2, [23], "0", "0", "0", "0")
+        self.refused(-2, [23], "0", "0", "0", "0", "0")
+        self.refused(-2, [23], "x", "x", "x", "x", "x", "x", d=0)
+
+    def test_d_and_too_many_equations_ahead_of_texts(self):
+        for wrong in ["", "x + x", "z", "x^6"]:
+            self.refused(-2, [23], wrong, d=6)
+            self.refused(-2, [23], "x", "x", wrong, d=LAST)
+            self.refused(-2, [23], "x", "x", "x", wrong)
+            self.refused(-2, [23], wrong, wrong, wrong, wrong, wrong)
+
+    def test_texts(self):
+        for wrong in ["", "x + x", "1 + x", "x^1", "-0", "2/4", "x "]:
+            self.refused(-1, [23, 24], wrong)
+            self.refused(-1, [23, 24], "x", wrong, d=0)
+            self.refused(-1, [23, 24], "x", "y", wrong)
+
+    def test_texts_ahead_of_other_letters_and_large_ones(self):
+        for other in OTHER_LETTER + TOO_LARGE:
+            self.refused(-1, [23, 24], other, "")
+            self.refused(-1, [23, 24], "", other)
+            self.refused(-1, [23, 24], "x", other, "x^1")
+            self.refused(-1, [23, 24], "x + x", "0", other)
+            self.refused(-1, [23, 24], other + " ")
+
+    def test_other_letters(self):
+        for other in OTHER_LETTER:
+            self.refused(-4, [23, 24], other)
+            self.refused(-4, [23, 24], "x", other, d=0)
+            self.refused(-4, [23, 24], "x", "x", other)
+        self.refused(-4, [23], "x + y")
+        self.refused(-4, [24], "x + y")
+        self.refused(-4, [22, 25], "x")
+
+    def test_other_letters_ahead_of_large_ones(self):
+        for large in TOO_LARGE:
+            self.refused(-4, [23, 24], large, "z")
+            self.refused(-4, [23, 24], "z", large)
+            self.refused(-4, [23, 24], large, large, "z")
+
+    def test_large_ones(self):
+        for large in TOO_LARGE:
+            self.refused(-2, [23, 24], large)
+            self.refused(-2, [23, 24], "0", large, d=0)
+            self.refused(-2, [23, 24, 25], "x", "y", large)
+
+    def test_those_just_fitting(self):
+        for text in JUST_FITTING:
+            for d in range(6):
+                self.taken([23, 24], text, d=d)
+            self.taken([23, 24], "0", text)
+            self.taken([23, 24], text, text, text)
 
 
 class Within(unittest.TestCase):

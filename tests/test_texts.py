@@ -5,6 +5,7 @@ import random
 import unittest
 
 from equationfollow import equations
+from tests.helper import basis
 from tests.helper import follows
 from tests.helper import is_polynomial_text
 from tests.helper import left
@@ -47,6 +48,12 @@ class Texts(unittest.TestCase):
         yield ["x", "y", text, "x"]
         yield ["x", "y", "x", text]
 
+    def equation_places(self, text):
+        yield [text]
+        yield ["x", text]
+        yield [text, "x", "y"]
+        yield ["x", "y", text]
+
     def test_those_that_are_not(self):
         for text in NOT_A_POLYNOMIAL:
             self.assertFalse(is_polynomial_text(text), text)
@@ -56,6 +63,9 @@ class Texts(unittest.TestCase):
                     self.assertEqual(when("xy", *texts), -1)
                     self.assertEqual(left(5, "xy", *texts), -1)
                     self.assertEqual(witness(5, "xy", *texts), -1)
+            for texts in self.equation_places(text):
+                with self.subTest(equations=texts):
+                    self.assertEqual(basis(5, "xy", *texts), -1)
 
     def test_those_that_are(self):
         for text in A_POLYNOMIAL:
@@ -66,6 +76,9 @@ class Texts(unittest.TestCase):
                     self.assertNotIn(when("xy", *texts), (-1, -2, -4))
                     self.assertIsInstance(left(5, "xy", *texts), str)
                     self.assertNotIn(witness(5, "xy", *texts), (-1, -2, -4, -6))
+            for texts in self.equation_places(text):
+                with self.subTest(equations=texts):
+                    self.assertIsInstance(basis(5, "xy", *texts), list)
 
     def test_those_that_are_written(self):
         # Nothing follows from no equation, so p itself is written again.

@@ -9,6 +9,7 @@ from tests.helper import LARGE_THIRD
 from tests.helper import LARGE_TWELVE
 from tests.helper import digits_of
 from tests.helper import follows
+from tests.helper import highest_of
 from tests.helper import left
 from tests.helper import letter_numbers
 from tests.helper import multiples
@@ -31,7 +32,7 @@ class Case(unittest.TestCase):
         for label, multiple in multiples(d, len(names), equations_told):
             self.assertEqual(value_by(found, names, multiple), 0, label)
         rest = read(left(d, names, p, *told), names)
-        highest = max(rest, key=order)
+        highest = highest_of(rest)
         self.assertEqual(dict(found)[write({highest: 1}, names)], "1")
         self.assertEqual(value_by(found, names, read(p, names)), rest[highest])
         products = [order(max(read(product, names))) for product, number in found]
