@@ -1,4 +1,5 @@
-"""The consequences' basis within a degree, what it leaves of a polynomial, and the witness.
+"""The consequences' basis within a degree, what it leaves of a polynomial, the witness, and the basis
+without some letters.
 
 The basis is kept as rows of whole numbers, each a polynomial of it times some number other than 0.
 A row has a column for each product, the higher first: so its first place that isn't 0 is its
@@ -24,9 +25,8 @@ def row_of(product, polynomial, columns):
     return [numbers.get(column, 0) for column in columns]
 
 
-# A row by the place of its highest product.
-def basis_rows(d, letter_count, equations):
-    columns = columns_within(d, letter_count)
+# Rows by the place of each one's first product: its highest one, if the higher columns come first.
+def rows_within(d, letter_count, equations, columns):
     rows = []
     for index, product in multiples_within(d, letter_count, equations):
         rows.append(row_of(product, equations[index], columns))
@@ -43,11 +43,23 @@ def divided(row, divisor, columns):
     return terms
 
 
-# Polynomials, the higher highest product first, with the number 1 there.
-def basis_within(d, letter_count, equations):
-    columns = columns_within(d, letter_count)
-    basis = basis_rows(d, letter_count, equations)
-    return [divided(basis[place], basis[place][place], columns) for place in sorted(basis)]
+def has_one_of(product, places):
+    return any([product[1 + place] > 0 for place in places])
+
+
+# Polynomials, the higher highest product first, with the number 1 there. The places tell which of the
+# letters these are to be without; with no place it's the whole basis.
+def basis_without(d, letter_count, equations, places):
+    products = columns_within(d, letter_count)
+    gone = [product for product in products if has_one_of(product, places)]
+    # What is to be gone comes first: then all that follows without it is made of the rows behind it.
+    columns = gone + [product for product in products if not has_one_of(product, places)]
+    rows = rows_within(d, letter_count, equations, columns)
+    found = []
+    for place in sorted(rows):
+        if place >= len(gone):
+            found.append(divided(rows[place], rows[place][place], columns))
+    return found
 
 
 # Behind p's numbers stands what they were taken times. The basis has 0 there, so this one is taken
@@ -62,7 +74,7 @@ def left_by(basis, columns, p):
 # A polynomial. p's degree isn't above d.
 def what_is_left(d, letter_count, p, equations):
     columns = columns_within(d, letter_count)
-    basis = basis_rows(d, letter_count, equations)
+    basis = rows_within(d, letter_count, equations, columns)
     return left_by(basis, columns, p)
 
 
@@ -83,7 +95,7 @@ def numbers_by(basis, columns, column):
 # Terms as those of a polynomial; none if p follows.
 def witness_against(d, letter_count, p, equations):
     columns = columns_within(d, letter_count)
-    basis = basis_rows(d, letter_count, equations)
+    basis = rows_within(d, letter_count, equations, columns)
     rest = left_by(basis, columns, p)
     if rest == []:
         return []

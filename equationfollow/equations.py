@@ -1,19 +1,21 @@
 """The calls: what follows from equations and how, what's left of something and its witness, and the
-basis of all that follows.
+basis of all that follows, or of what follows without some letters.
 
 The letters are told by their numbers, the polynomials by their texts' bytes: first p's, where one is
 wanted, then each equation's. What is answered is one list: a number, then each text as how many
 bytes it has and these. A refusal is a number below 0, alone.
 """
 
-from equationfollow.consequences import basis_within
+from equationfollow.consequences import basis_without
 from equationfollow.consequences import what_is_left
 from equationfollow.consequences import witness_against
 from equationfollow.following import how_it_follows
 from equationfollow.products import degree_of
 from equationfollow.products import product_of
 from equationfollow.reading import read_polynomial
+from equationfollow.refusals import BAD_LETTERS
 from equationfollow.refusals import LARGEST_DEGREE
+from equationfollow.refusals import are_some_of
 from equationfollow.refusals import first_refusal
 from equationfollow.writing import written
 
@@ -104,11 +106,26 @@ def witness(d, letters, texts):
     return answer_of(len(terms), parts, letters)
 
 
-def basis(d, letters, texts):
+# The letters that it's to be without are among those told, or there are none.
+def basis_answer(d, letters, gone, texts):
     equations = [read_polynomial(text) for text in texts]
     refusal = first_refusal(d, letters, 0, equations)
     if refusal < 0:
         return [refusal]
     told = [in_letters(equation, letters) for equation in equations]
-    found = basis_within(d, len(letters), told)
+    places = [letters.index(letter) for letter in gone]
+    found = basis_without(d, len(letters), told, places)
     return answer_of(len(found), found, letters)
+
+
+def basis(d, letters, texts):
+    return basis_answer(d, letters, [], texts)
+
+
+# The first n letters are those told.
+def without(d, n, letters, texts):
+    told = letters[:n]
+    gone = letters[n:]
+    if not are_some_of(gone, told):
+        return [BAD_LETTERS]
+    return basis_answer(d, told, gone, texts)

@@ -25,6 +25,11 @@ def are_letters(letters):
     return True
 
 
+# Of the letters that something is to be without.
+def are_some_of(gone, letters):
+    return are_letters(gone) and all([letter in letters for letter in gone])
+
+
 def has_other_letter(polynomial, letters):
     for term in polynomial:
         for letter, often in enumerate(term[0][1:]):

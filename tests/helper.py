@@ -5,6 +5,7 @@ The second way is slow and plain: fractions, dicts, and multiples taken one by o
 
 import itertools
 import re
+import unittest
 from fractions import Fraction
 
 from equationfollow import equations
@@ -77,15 +78,23 @@ def witness(d, names, p, *told):
     return list(zip(texts[::2], texts[1::2]))
 
 
-def basis(d, names, *told):
-    """The texts, or the number alone that is a refusal."""
-    answer = equations.basis(d, letter_numbers(names), [to_bytes(text) for text in told])
+def counted(answer):
+    """As many texts as the number tells, or the number alone that is a refusal."""
     if answer[0] < 0:
         assert len(answer) == 1, answer
         return answer[0]
     texts = texts_of(answer)
     assert len(texts) == answer[0], answer
     return texts
+
+
+def basis(d, names, *told):
+    return counted(equations.basis(d, letter_numbers(names), [to_bytes(text) for text in told]))
+
+
+def without(d, names, gone, *told):
+    letters = letter_numbers(names) + letter_numbers(gone)
+    return counted(equations.without(d, len(names), letters, [to_bytes(text) for text in told]))
 
 
 def order(product):
@@ -265,6 +274,29 @@ def basis_again(d, names, *told):
     return [write(polynomial, names) for polynomial in basis_of(kept)]
 
 
+def products_without(d, names, gone):
+    """Products of the names in which those that are gone aren't, the lower first."""
+    places = [names.index(name) for name in gone]
+    return [product for product in products_within(d, len(names)) if not any(product[place] for place in places)]
+
+
+def without_again(d, names, gone, *told):
+    """Each product is the highest one of something without what's gone, if what's left of it is made of what's left
+    of lower ones: then it, less these."""
+    kept = kept_multiples(d, names, [read(text, names) for text in told])
+    found = []
+    free = {}
+    for product in products_without(d, names, gone):
+        rest, taken = remainder({product: Fraction(1)}, kept)
+        rest, lower = remainder(rest, free)
+        polynomial = plus({product: Fraction(1)}, lower, -1)
+        if rest:
+            free[highest_of(rest)] = (rest, polynomial)
+        else:
+            found.append(polynomial)
+    return [write(polynomial, names) for polynomial in reversed(found)]
+
+
 def rest_by(found, polynomial):
     """What's left of a polynomial, less what these are times numbers."""
     rest, taken = remainder(polynomial, {highest_of(one): (one, {}) for one in found})
@@ -305,3 +337,25 @@ def random_polynomial(rng, names, d, most, largest, bottom):
     chosen = rng.sample(products, min(len(products), rng.randint(1, most)))
     numbers = [Fraction(rng.randint(-largest, largest), rng.randint(1, bottom)) for product in chosen]
     return {product: number for product, number in zip(chosen, numbers) if number}
+
+
+class BasisCase(unittest.TestCase):
+    """What a basis has to be, whichever it is."""
+
+    def check_form(self, polynomials):
+        highest = [highest_of(polynomial) for polynomial in polynomials]
+        places = [order(product) for product in highest]
+        self.assertEqual(places, sorted(set(places), reverse=True))
+        for index, polynomial in enumerate(polynomials):
+            self.assertEqual(polynomial[highest[index]], 1)
+            for other in highest[:index] + highest[index + 1:]:
+                self.assertNotIn(other, polynomial)
+
+    def check_follows(self, d, names, polynomials, told):
+        kept = kept_multiples(d, names, [read(text, names) for text in told])
+        for polynomial in polynomials:
+            rest, taken = remainder(polynomial, kept)
+            self.assertEqual(rest, {})
+            # One with long numbers can't be handed in.
+            if fits(polynomial):
+                self.assertIsInstance(follows(d, names, write(polynomial, names), *told), list)

@@ -3,6 +3,7 @@
 import unittest
 
 from equationfollow import equations
+from tests.helper import BasisCase
 from tests.helper import LARGE_FIRST
 from tests.helper import LARGE_SECOND
 from tests.helper import LARGE_THIRD
@@ -11,16 +12,11 @@ from tests.helper import basis
 from tests.helper import basis_again
 from tests.helper import digits_of
 from tests.helper import fits
-from tests.helper import follows
-from tests.helper import highest_of
-from tests.helper import kept_multiples
 from tests.helper import left
 from tests.helper import letter_numbers
 from tests.helper import multiples
-from tests.helper import order
 from tests.helper import products_within
 from tests.helper import read
-from tests.helper import remainder
 from tests.helper import rest_by
 from tests.helper import to_bytes
 from tests.helper import write
@@ -31,25 +27,7 @@ def products(d, names):
     return [write({product: 1}, names) for product in reversed(products_within(d, len(names)))]
 
 
-class Case(unittest.TestCase):
-    def check_form(self, polynomials):
-        highest = [highest_of(polynomial) for polynomial in polynomials]
-        places = [order(product) for product in highest]
-        self.assertEqual(places, sorted(set(places), reverse=True))
-        for index, polynomial in enumerate(polynomials):
-            self.assertEqual(polynomial[highest[index]], 1)
-            for other in highest[:index] + highest[index + 1:]:
-                self.assertNotIn(other, polynomial)
-
-    def check_follows(self, d, names, polynomials, told):
-        kept = kept_multiples(d, names, [read(text, names) for text in told])
-        for polynomial in polynomials:
-            rest, taken = remainder(polynomial, kept)
-            self.assertEqual(rest, {})
-            # One with long numbers can't be handed in.
-            if fits(polynomial):
-                self.assertIsInstance(follows(d, names, write(polynomial, names), *told), list)
-
+class Case(BasisCase):
     def check_all(self, d, names, polynomials, told):
         for label, multiple in multiples(d, len(names), [read(text, names) for text in told]):
             self.assertEqual(rest_by(polynomials, multiple), {}, label)

@@ -4,6 +4,7 @@ import contextlib
 import copy
 import io
 import unittest
+from unittest import mock
 
 from equationfollow import equations
 from tests.helper import to_bytes
@@ -27,8 +28,15 @@ def call_when(d, letters, texts):
     return equations.when(letters, texts)
 
 
+# Letters rise, so those that are told end with the greatest one.
+def call_without(d, letters, texts):
+    return equations.without(d, letters.index(max(letters)) + 1, letters, texts)
+
+
 # Of the calls without p the same equations.
 EQUATION_CASES = [(d, letters, texts[1:]) for d, letters, texts in CASES] + CASES
+GONE_CASES = [(d, letters + gone, texts) for d, letters, texts in EQUATION_CASES
+              for gone in ([], letters[:1], letters[:2], letters[-1:])]
 
 CALLS = {
     "follows": (equations.follows, CASES),
@@ -36,6 +44,7 @@ CALLS = {
     "left": (equations.left, CASES),
     "witness": (equations.witness, CASES),
     "basis": (equations.basis, EQUATION_CASES),
+    "without": (call_without, GONE_CASES),
 }
 
 
@@ -63,7 +72,8 @@ class Kept(unittest.TestCase):
     def test_the_lists_handed_in_are_not_taken_for_others(self):
         # An answer that shared a list with what was handed in would change along with it.
         for name, (call, cases) in CALLS.items():
-            letters, texts = [23, 24], [to_bytes("x*y - 1"), to_bytes("x - y")]
+            letters = [23, 24, 24] if name == "without" else [23, 24]
+            texts = [to_bytes("x*y - 1"), to_bytes("x - y")]
             first = call(2, letters, texts)
             wanted = list(first)
             letters.clear()
@@ -85,12 +95,22 @@ class Kept(unittest.TestCase):
                     call(d, letters, [to_bytes(text) for text in told])
         self.assertEqual(out.getvalue() + errors.getvalue(), "")
 
+    def test_nothing_is_read_or_imported(self):
+        handed = [(call, d, letters, [to_bytes(text) for text in told])
+                  for call, cases in CALLS.values() for d, letters, told in cases]
+        barred = mock.Mock(side_effect=AssertionError)
+        with mock.patch("builtins.open", barred), mock.patch("builtins.input", barred), mock.patch("builtins.__import__", barred):
+            for call, d, letters, texts in handed:
+                call(d, letters, texts)
+        self.assertEqual(barred.call_count, 0)
+
     def test_one_list_handed_in_twice(self):
         text = to_bytes("x - 1")
         self.assertEqual(equations.follows(1, [23], [text, text, text]), [1, 1, 49, 1, 48])
         self.assertEqual(equations.left(1, [23], [text, text, text]), [1, 1, 48])
         self.assertEqual(equations.witness(1, [23], [text, text, text]), [-5])
         self.assertEqual(equations.basis(1, [23], [text, text, text]), [1, 5] + text)
+        self.assertEqual(equations.without(1, 2, [23, 24, 24], [text, text, text]), [1, 5] + text)
         self.assertEqual(text, to_bytes("x - 1"))
 
 

@@ -21,6 +21,8 @@ from tests.helper import when
 from tests.helper import when_again
 from tests.helper import witness
 from tests.helper import witness_again
+from tests.helper import without
+from tests.helper import without_again
 from tests.helper import write
 
 
@@ -65,6 +67,13 @@ def random_case(seed):
     if not fits(p):
         p = {}
     return (d, names, write(p, names)) + tuple(write(equation, names) for equation in told)
+
+
+def random_case_without(seed):
+    d, names, p, *told = random_case(seed)
+    rng = random.Random(200000 + seed)
+    gone = rng.sample(names, rng.choice([1, 1, len(names) - 1 or 1, len(names)]))
+    return (d, names, "".join(sorted(gone))) + tuple(told)
 
 
 def cases_beyond(seed):
@@ -128,6 +137,16 @@ class AgainstTheWords(unittest.TestCase):
                 seen["none" if found == [] else "one" if len(found) == 1 else "several"] += 1
         self.assertGreater(min(seen.values()), 50, seen)
 
+    def test_without(self):
+        seen = {"none": 0, "one": 0, "several": 0}
+        for seed in range(900):
+            d, names, gone, *told = random_case_without(9000 + seed)
+            with self.subTest(d=d, names=names, gone=gone, told=told):
+                found = without(d, names, gone, *told)
+                self.assertEqual(found, without_again(d, names, gone, *told))
+                seen["none" if found == [] else "one" if len(found) == 1 else "several"] += 1
+        self.assertGreater(min(seen.values()), 50, seen)
+
     def test_beyond_the_degree(self):
         seen = {True: 0, False: 0}
         for seed in range(250):
@@ -140,6 +159,8 @@ class AgainstTheWords(unittest.TestCase):
                     self.assertEqual(witness(*case), witness_again(*case))
                     d, names, p, *told = case
                     self.assertEqual(basis(d, names, *told), basis_again(d, names, *told))
+                    for gone in names:
+                        self.assertEqual(without(d, names, gone, *told), without_again(d, names, gone, *told))
                     seen[wanted == 0] += 1
         self.assertGreater(min(seen.values()), 50)
 

@@ -43,9 +43,14 @@ def call_basis(letters, *texts, d=5):
     return equations.basis(d, letters, [to_bytes(text) for text in texts])
 
 
+# Without the first letter told.
+def call_without(letters, *texts, d=5):
+    return equations.without(d, len(letters), letters + letters[:1], [to_bytes(text) for text in texts])
+
+
 CALLS_WITHIN = (call_follows, call_left, call_witness)
 CALLS_WITH_P = CALLS_WITHIN + (call_when,)
-CALLS_WITHOUT_P = (call_basis,)
+CALLS_WITHOUT_P = (call_basis, call_without)
 
 
 class WithP(unittest.TestCase):
@@ -226,6 +231,82 @@ class WithoutP(unittest.TestCase):
                 self.taken([23, 24], text, d=d)
             self.taken([23, 24], "0", text)
             self.taken([23, 24], text, text, text)
+
+
+class Gone(unittest.TestCase):
+    """The letters that without is to be without."""
+
+    GOOD = [([23], [23]), ([23, 24], [23]), ([23, 24], [24]), ([23, 24], [23, 24]), ([0, 12, 25], [0, 25]),
+            ([0, 12, 25], [12, 25]), ([0, 12, 25], [12]), ([0, 12, 25], [0, 12, 25])]
+    BAD = [([23], []), ([23, 24], []), ([23, 24, 25], []), ([23], [24]), ([23], [0]), ([23, 24], [22]), ([23, 25], [24]),
+           ([23, 24], [23, 25]), ([23, 24], [22, 23]), ([23, 24], [23, 24, 25]), ([0, 12, 25], [0, 12, 24]),
+           ([23, 24], [24, 23]), ([23, 24], [23, 23]), ([23], [23, 23]), ([0, 12, 25], [25, 12]), ([0, 12, 25], [0, 12, 12]),
+           ([0, 12, 25], [0, 25, 12]), ([0, 12, 25], [12, 0, 25]), ([0, 12, 25], [0, 12, 25, 25]),
+           ([0, 12, 25], [0, 12, 25, 26]), ([0, 12, 25], [0, 0, 12, 25]), ([23], [26]), ([23], [LAST]),
+           ([23], [23, 26]), ([0, 12, 25], [0, 12, 25, 0, 12, 25]), ([0, 12, 25], [0] * 9)]
+
+    def answer(self, letters, gone, *texts, d=5):
+        return equations.without(d, len(letters), letters + gone, [to_bytes(text) for text in texts])
+
+    def refused(self, wanted, letters, gone, *texts, d=5):
+        with self.subTest(d=d, letters=letters, gone=gone, texts=texts):
+            self.assertEqual(self.answer(letters, gone, *texts, d=d), [wanted])
+
+    def test_those_that_are_fine(self):
+        for letters, gone in self.GOOD:
+            with self.subTest(letters=letters, gone=gone):
+                self.assertEqual(self.answer(letters, gone), [0])
+                self.assertEqual(self.answer(letters, gone, "3", d=0), [1, 1, 49])
+
+    def test_those_that_are_not(self):
+        for letters, gone in self.BAD:
+            self.refused(-4, letters, gone)
+            self.refused(-4, letters, gone, "0")
+            self.refused(-4, letters, gone, "1", "1", "1", d=0)
+
+    def test_ahead_of_all_else(self):
+        for letters, gone in self.BAD:
+            self.refused(-4, letters, gone, d=6)
+            self.refused(-4, letters, gone, "0", d=LAST)
+            self.refused(-4, letters, gone, "0", "0", "0", "0")
+            self.refused(-4, letters, gone, "")
+            self.refused(-4, letters, gone, "0", "x + x")
+            self.refused(-4, letters, gone, "10000")
+            self.refused(-4, letters, gone, "x^6", "", "p", "1/10000", "0", d=6)
+
+    def test_letters_told_that_are_not_fine(self):
+        for letters in BAD_LETTERS:
+            for gone in ([], [23], [0], [23, 24], letters[:3], letters[-1:]):
+                self.refused(-4, letters, gone)
+                self.refused(-4, letters, gone, "", d=6)
+
+    def test_letters_to_be_without_among_letters_that_are_not_fine(self):
+        self.refused(-4, [24, 23], [23, 24])
+        self.refused(-4, [23, 23], [23])
+        self.refused(-4, [0, 1, 2, 3], [1, 2, 3])
+        self.refused(-4, [23, 26], [23])
+        self.refused(-4, [26], [26])
+
+    def test_n_tells_where_the_letters_told_end(self):
+        texts = [to_bytes("x - y"), to_bytes("y - z")]
+        letters = [23, 24, 25, 23, 25]
+        self.assertEqual(equations.without(1, 3, letters, texts), [0])
+        for n in (0, 1, 2, 4, 5):
+            self.assertEqual(equations.without(1, n, letters, texts), [-4], n)
+
+    def test_twelve_letters(self):
+        for n in range(13):
+            self.assertEqual(equations.without(1, n, list(range(12)), []), [-4], n)
+            self.assertEqual(equations.without(1, n, [LAST] * 12, []), [-4], n)
+
+    def test_what_the_other_calls_refuse(self):
+        for letters, gone in self.GOOD:
+            self.refused(-2, letters, gone, d=6)
+            self.refused(-2, letters, gone, "", d=LAST)
+            self.refused(-2, letters, gone, "0", "0", "", "p")
+            self.refused(-1, letters, gone, "p", "10000", "")
+            self.refused(-4, letters, gone, "10000", "p")
+            self.refused(-2, letters, gone, "0", "10000", d=0)
 
 
 class Within(unittest.TestCase):

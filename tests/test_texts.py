@@ -13,6 +13,7 @@ from tests.helper import random_polynomial
 from tests.helper import to_bytes
 from tests.helper import when
 from tests.helper import witness
+from tests.helper import without
 from tests.helper import write
 
 NOT_A_POLYNOMIAL = [
@@ -66,6 +67,7 @@ class Texts(unittest.TestCase):
             for texts in self.equation_places(text):
                 with self.subTest(equations=texts):
                     self.assertEqual(basis(5, "xy", *texts), -1)
+                    self.assertEqual(without(5, "xy", "x", *texts), -1)
 
     def test_those_that_are(self):
         for text in A_POLYNOMIAL:
@@ -79,6 +81,7 @@ class Texts(unittest.TestCase):
             for texts in self.equation_places(text):
                 with self.subTest(equations=texts):
                     self.assertIsInstance(basis(5, "xy", *texts), list)
+                    self.assertIsInstance(without(5, "xy", "y", *texts), list)
 
     def test_those_that_are_written(self):
         # Nothing follows from no equation, so p itself is written again.
